@@ -1,0 +1,1 @@
+"""Otherhand: left and right, or which bodies are their own mirror image."""
