@@ -1,0 +1,79 @@
+"""Placing the core of one web or body, piece by piece, on that of another one."""
+
+from otherhand.coding import is_tied_stiffly
+from otherhand.errors import TooMany
+from otherhand.sights import plain_sight
+
+MOST_RENAMINGS = 400
+
+
+def bond(web, one, other):
+    """How two pieces are tied: 0 not at all, 1 not stiffly, 2 stiffly."""
+    return 1 + is_tied_stiffly(web, one, other) if other in web.near[one] else 0
+
+
+def are_like_pieces(one, piece, other, image):
+    """Whether two core pieces are alike in kind, hub, neighbours and entries."""
+    near = len(one.web.near[piece])
+    return (
+        one.web.kinds[piece] == other.web.kinds[image]
+        and (piece in one.web.hubs) == (image in other.web.hubs)
+        and near == len(other.web.near[image])
+        and one.entries[piece] == other.entries[image]
+    )
+
+
+def open_images(one, other):
+    """For each piece of the core of one the pieces of other's core that are like it."""
+    images = {}
+    for piece in one.core:
+        images[piece] = [at for at in other.core if are_like_pieces(one, piece, other, at)]
+    return images
+
+
+def left_open(one, other, images, piece, image):
+    """What is left of the open images when a piece is placed on an image."""
+    left = {}
+    for far in images:
+        if far != piece:
+            asked = bond(one.web, piece, far)
+            left[far] = [
+                at for at in images[far] if at != image and bond(other.web, image, at) == asked
+            ]
+    return left
+
+
+def next_piece(images):
+    """The piece with the fewest open images: so dead ends show early."""
+    return min(list(images), key=lambda piece: len(images[piece]))
+
+
+def placements(one, other, most):
+    """The ways to place the core of one on that of other, more than most cut off.
+
+    Each is a dict from pieces to images. Only ways by plain sights are asked.
+    """
+    if len(one.core) != len(other.core):
+        return []
+    found = []
+    extend_placement(one, other, open_images(one, other), {}, found, most)
+    return found
+
+
+def extend_placement(one, other, images, placed, found, most):
+    """Puts the ways to place what is left of the core on the list found."""
+    if not images:
+        found.append(placed)
+        return
+    piece = next_piece(images)
+    for image in images[piece]:
+        if len(found) > most:
+            return
+        left = left_open(one, other, images, piece, image)
+        extend_placement(one, other, left, {**placed, piece: image}, found, most)
+
+
+def need_few_placements(web, other):
+    """Raises TooMany if the core of a web can be placed in too many ways."""
+    if len(placements(plain_sight(web), plain_sight(other), MOST_RENAMINGS)) > MOST_RENAMINGS:
+        raise TooMany("renamings", MOST_RENAMINGS)

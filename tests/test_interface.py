@@ -1,0 +1,82 @@
+"""The names and arguments of the interface, each in the file under which it stands."""
+
+import importlib
+import inspect
+import unittest
+
+FUNCTIONS = {
+    "checks": "is_integer(value) is_within(value,least,most) is_name(value) is_numbers(value)"
+              " is_sign(value) first_twice(values) lowest(number,by) is_odd(row)",
+    "papers": "fixed(value)",
+    "sums": "sum_of(lots) sum_numbers(lots,lot) barring(lots,lot)",
+    "bodies": "settings_of(web)",
+    "joined": "joined(one,piece,other,its) taken_off(body,piece)",
+    "branches": "core_of(web) middle(web) ahead_of(web,piece) hanging(web,piece)"
+                " behind(web,piece,ahead)",
+    "renamings": "renamings(web,other) is_renaming(web,other,row) put_together(one,other)"
+                 " backwards(row) power(row,number)",
+    "leading": "led(body,web,row) signed(web,other,row)",
+    "codes": "code_of(body,piece,ahead) plain_code(web,piece,ahead) whole_code(body)"
+             " entries_of(body,piece)",
+    "refusing": "leading(one,other)",
+    "check_renamings": "shows_leading(one,other,value)",
+    "sameness": "same(one,other) mirrorlike(body)",
+    "leastforms": "like_settings(body) least_setting(body) least_body(body)"
+                  " same_sort(web,one,other)",
+    "check_sameness": "shows_same(one,other,value) shows_mirrorlike(body,value)",
+    "rounds": "rounds(web,row) left_by(web,row) left_in_mirror(web,row) kept_settings(web,row)"
+              " kept_in_mirror(web,row)",
+    "sorts": "sorts(web) mirrorlike_sorts(web) pairs_of(web) sort_at(web,number)"
+             " number_of_sort(web,setting) counts(body,mark) sway(web,mark)",
+}
+CLASSES = {
+    "papers": "Paper(word,*parts) Denial(word,*parts)",
+    "webs": "Web(kinds,ties,hubs=(),stiff=())",
+    "bodies": "Body(web,setting)",
+    "refusing": "Led(row) Refused(tree)",
+    "sameness": "One(row) MirrorOf(row) Neither(tree,mirrored) Mirrorlike(row) Handed(tree)",
+    "sorts": "Sway(how,counting,lacking)",
+}
+METHODS = {
+    ("webs", "Web"): "neighbours(self,piece) others(self,tie) seats(self,hub)"
+                     " with_kind(self,piece,kind) renumbered(self,row) read(text)",
+    ("bodies", "Body"): "hand(self,hub) side(self,tie) turned(self,lot) mirrored(self)"
+                        " with_kind(self,piece,kind) renumbered(self,row) read(text)",
+}
+
+
+def told(made, name):
+    return name + str(inspect.signature(made)).replace(" ", "")
+
+
+class TestInterface(unittest.TestCase):
+    def test_functions(self):
+        for file, names in FUNCTIONS.items():
+            module = importlib.import_module("otherhand." + file)
+            for asked in names.split():
+                name = asked.split("(")[0]
+                made = getattr(module, name)
+                self.assertEqual(told(made, name), asked)
+                self.assertEqual(made.__module__, "otherhand." + file)
+
+    def test_classes(self):
+        for file, names in CLASSES.items():
+            module = importlib.import_module("otherhand." + file)
+            for asked in names.split():
+                name = asked.split("(")[0]
+                made = getattr(module, name)
+                self.assertEqual(told(made, name), asked)
+                self.assertEqual(made.__module__, "otherhand." + file)
+                self.assertIn("__init__", vars(made))
+
+    def test_methods(self):
+        for (file, name), names in METHODS.items():
+            made = getattr(importlib.import_module("otherhand." + file), name)
+            for asked in names.split():
+                method = asked.split("(")[0]
+                self.assertIn(method, vars(made))
+                self.assertEqual(told(getattr(made, method), method), asked)
+
+
+if __name__ == "__main__":
+    unittest.main()
