@@ -1,7 +1,7 @@
 """The settings that are one body, and the least of them."""
 
 from otherhand.bodies import Body, need_body
-from otherhand.given import need_few_marks, need_setting
+from otherhand.given import need_setting
 from otherhand.orbits import settings_like
 from otherhand.refusing import row_or_tree
 from otherhand.webs import need_web
@@ -10,20 +10,18 @@ from otherhand.webs import need_web
 def like_settings(body):
     """All settings of its web that are one with a body, ascending."""
     need_body(body, "body")
-    need_few_marks(body.web)
     return settings_like(body.web, body.setting)
 
 
 def least_setting(body):
     """The least setting of its web that is one with a body."""
-    need_body(body, "body")
     return like_settings(body)[0]
 
 
 def least_body(body):
     """The body of the least setting that is one with a body."""
-    need_body(body, "body")
-    return Body(body.web, least_setting(body))
+    least = least_setting(body)
+    return Body(body.web, least)
 
 
 def same_sort(web, one, other):

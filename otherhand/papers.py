@@ -38,7 +38,8 @@ class Denial(Paper):
     """A paper that says no."""
 
     def __init__(self, word, *parts):
-        super().__init__(word, *parts)
+        self.word = word
+        self.parts = fixed(parts)
 
     def __eq__(self, other):
         return isinstance(other, Denial) and are_like_papers(self, other)

@@ -66,10 +66,12 @@ def is_renaming(web, other, row):
 
 def keeps_ties(web, other, row):
     """Whether just the images of tied pieces are tied, of stiff ties stiffly."""
-    if len(web.ties) != len(other.ties) or len(web.stiff) != len(other.stiff):
+    if len(web.ties) != len(other.ties):
         return False
-    pairs = [(tie, (row[tie[0]], row[tie[1]])) for tie in web.ties]
-    return all([bond(web, *tie) == bond(other, *image) for tie, image in pairs])
+    for low, high in web.ties:
+        if bond(web, low, high) != bond(other, row[low], row[high]):
+            return False
+    return True
 
 
 def need_images(row, part):

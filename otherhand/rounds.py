@@ -1,7 +1,6 @@
 """Rounds of marks, and the settings that a renaming of a web leaves."""
 
 from otherhand.bodies import mirrored_setting, settings_of
-from otherhand.given import need_few_marks
 from otherhand.leading import need_renaming
 from otherhand.marks import led_setting, marks_led, turns_of
 from otherhand.webs import need_web
@@ -35,14 +34,12 @@ def rounds(web, row):
 
 def left_by(web, row):
     """How many settings a renaming leaves."""
-    need_own_renaming(web, row)
     told = rounds(web, row)
     return 0 if any([odd for _, odd, _ in told]) else 1 << len(told)
 
 
 def left_in_mirror(web, row):
     """How many settings a renaming leaves in the mirror."""
-    need_own_renaming(web, row)
     told = rounds(web, row)
     return 0 if any([odd for _, _, odd in told]) else 1 << len(told)
 
@@ -50,7 +47,6 @@ def left_in_mirror(web, row):
 def kept_settings(web, row):
     """The settings that a renaming leaves, ascending."""
     need_own_renaming(web, row)
-    need_few_marks(web)
     kept = [one for one in settings_of(web) if led_setting(web, web, row, one) == one]
     return tuple(kept)
 
@@ -58,7 +54,6 @@ def kept_settings(web, row):
 def kept_in_mirror(web, row):
     """The settings that a renaming leaves in the mirror, ascending."""
     need_own_renaming(web, row)
-    need_few_marks(web)
     kept = []
     for setting in settings_of(web):
         if led_setting(web, web, row, setting) == mirrored_setting(web, setting):

@@ -3,7 +3,7 @@
 from otherhand.bodies import mirrored_setting, need_body, settings_of
 from otherhand.checks import is_within
 from otherhand.errors import BadNumber
-from otherhand.given import need_few_marks, need_mark, need_setting
+from otherhand.given import need_mark, need_setting
 from otherhand.orbits import least_numbers, number_of
 from otherhand.papers import Paper
 from otherhand.refusing import row_or_tree
@@ -22,7 +22,6 @@ class Sway(Paper):
 
 def least_settings(web):
     """For each setting of a web, ascending, the pair of it and of the least of its sort."""
-    need_few_marks(web)
     settings = settings_of(web)
     least = least_numbers(web)
     return [(setting, settings[least[at]]) for at, setting in enumerate(settings)]
@@ -55,7 +54,6 @@ def pairs_of(web):
 
 def sort_at(web, number):
     """The sort of a web with this number."""
-    need_web(web, "web")
     found = sorts(web)
     if not is_within(number, 0, len(found) - 1):
         raise BadNumber("number")

@@ -89,8 +89,9 @@ def settle(one, other, piece, row):
     images, two like ones beside it can still be exchanged.
     """
     children = one.branches[piece]
-    stiff = [child for child in children if is_tied_stiffly(one.web, piece, child)]
-    for child in stiff + [child for child in children if child not in stiff]:
+    stiff = [at for at in children if is_tied_stiffly(one.web, piece, at)]
+    others = [at for at in children if at not in stiff]
+    for child in stiff + others:
         place_branches(one, other, child, row)
         if child in one.web.hubs:
             keep_hand(one, other, child, row)

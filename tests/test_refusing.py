@@ -241,6 +241,13 @@ class TestChecks(Asking):
         self.assertIs(shows_leading(body, body, Led([0])), True)
         self.assertIs(shows_leading(body, body, Fake([0])), False)
 
+        class FakeRefused(Refused):
+            pass
+
+        other = Body(web_of(1, [], kinds=["b"]), [])
+        self.assertIs(shows_leading(body, other, Refused((0, ("kind",)))), True)
+        self.assertIs(shows_leading(body, other, FakeRefused((0, ("kind",)))), False)
+
 
 if __name__ == "__main__":
     unittest.main()

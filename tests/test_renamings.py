@@ -5,8 +5,12 @@ import unittest
 from otherhand.bodies import Body
 from otherhand.errors import BadNumber, BadRow, BadWeb, Misfit, TooMany
 from otherhand.placing import placements
-from otherhand.renamings import backwards, is_renaming, power, put_together, renamings
+from otherhand.branches import core_of
+from otherhand.renamings import (
+    all_put_together, backwards, is_renaming, many_within_branches, power, put_together, renamings,
+)
 from otherhand.sights import plain_sight
+from otherhand.spreading import exchanging_rows
 from otherhand.webs import Web
 from tests.helping import NO_INTEGERS, ODD_VALUES, Asking
 from tests.oracle import all_rows, any_row, any_web, some_webs, web_of, web_with_all_hubs
@@ -77,6 +81,15 @@ class TestRenamings(Asking):
         self.assertEqual(renamings(bush, bush.with_kind(12, "b")), ())
         self.assertEqual(renamings(bush, web_of(13, ties)), ())
 
+    def test_how_many_leave_the_core(self):
+        for web in some_webs(49, 120, most=9, kinds="aab", loops=1):
+            sight = plain_sight(web)
+            rows = all_put_together(exchanging_rows(sight), len(web))
+            core = core_of(web)
+            asked = [row for row in all_rows(web, web) if all(row[at] == at for at in core)]
+            self.assertEqual(sorted(rows), asked)
+            self.assertEqual(many_within_branches(sight), len(asked))
+
     def test_placements_are_cut_off_behind_most(self):
         sight = plain_sight(cube(3))
         self.assertEqual(len(placements(sight, sight, 400)), 48)
@@ -118,6 +131,13 @@ class TestRenamings(Asking):
                     [False, 1, 2, 3], ["0", 1, 2, 3], *ODD_VALUES):
             self.assertIs(is_renaming(web, web, row), False, row)
         self.assertIs(is_renaming(web, web_of(1, []), (0,)), False)
+        path = web_of(4, [(0, 1), (1, 2), (2, 3)])
+        ring = web_of(4, [(0, 1), (1, 2), (2, 3), (0, 3)])
+        self.assertIs(is_renaming(path, ring, (0, 1, 2, 3)), False)
+        self.assertIs(is_renaming(ring, path, (0, 1, 2, 3)), False)
+        stiff = web_of(4, path.ties, [], [(1, 2)])
+        self.assertIs(is_renaming(path, stiff, (0, 1, 2, 3)), False)
+        self.assertIs(is_renaming(stiff, path, (0, 1, 2, 3)), False)
         rng = random.Random(45)
         for web in some_webs(46, 60, most=6, kinds="a"):
             other = any_web(rng, most=6, kinds="a")

@@ -16,9 +16,11 @@ class TestRounds(Asking):
     def test_against_trying_all_settings(self):
         rng = random.Random(111)
         found = [0, 0, 0]
-        for web in some_webs(112, 150, most=8, kinds="a"):
+        # Three hubs in a loop with two like ends each: rounds in which all three are turned.
+        thrice = web_with_all_hubs(9, [(0, 1), (1, 2), (0, 2)] + [(at // 2, 3 + at) for at in range(6)])
+        for web in [thrice, *some_webs(112, 150, most=8, kinds="a")]:
             rows = all_rows(web, web)
-            for row in rng.sample(rows, min(6, len(rows))):
+            for row in rows if web == thrice else rng.sample(rows, min(6, len(rows))):
                 kept = [one for one in settings(web) if leads(web, web, row, one) == one]
                 turned = [one for one in settings(web)
                           if leads(web, web, row, one) == mirror(web, one)]

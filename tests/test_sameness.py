@@ -194,13 +194,36 @@ class TestChecks(Asking):
         class Fake(One):
             pass
 
+        class FakeMirrorOf(MirrorOf):
+            pass
+
+        class FakeNeither(Neither):
+            pass
+
         class FakeMirrorlike(Mirrorlike):
             pass
 
+        class FakeHanded(Handed):
+            pass
+
+        left, right = Body(STAR, [1]), Body(STAR, [-1])
+        other = Body(web_of(1, []), [])
+        for made, told in ((MirrorOf, True), (FakeMirrorOf, False)):
+            self.assertIs(shows_same(left, right, made(range_of(5))), told)
+        for made, told in ((Neither, True), (FakeNeither, False)):
+            bent = left.with_kind(0, "z")
+            self.assertIs(shows_same(left, bent, made((0, ("kind",)), (0, ("kind",)))), told)
+        for made, told in ((Handed, True), (FakeHanded, False)):
+            self.assertIs(shows_mirrorlike(left, made((0, ("marks",)))), told)
+        self.assertIs(bool(mirrorlike(other)), True)
         body = Body(web_of(1, []), [])
         self.assertIs(shows_same(body, body, Fake([0])), False)
         self.assertIs(shows_mirrorlike(body, FakeMirrorlike([0])), False)
         self.assertIs(shows_mirrorlike(body, Mirrorlike([0])), True)
+
+
+def range_of(many):
+    return tuple(range(many))
 
 
 if __name__ == "__main__":
