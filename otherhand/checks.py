@@ -50,6 +50,20 @@ def first_twice(values):
     return None
 
 
+def is_just(value, told):
+    """Whether any value is just this one, told of integers, strings, None and tuples.
+
+    True and False stand for no number here, and no number for them.
+    """
+    if isinstance(told, tuple):
+        if not isinstance(value, tuple) or len(value) != len(told):
+            return False
+        return all([is_just(part, its) for part, its in zip(value, told)])
+    if isinstance(told, str):
+        return isinstance(value, str) and value == told
+    return value is None if told is None else is_integer(value) and value == told
+
+
 def lowest(number, by):
     """The fraction number by by in lowest terms."""
     shared = gcd(number, by)

@@ -2,7 +2,7 @@
 
 from otherhand.bodies import Body, need_body
 from otherhand.errors import BadRow
-from otherhand.marks import led_setting, marks_led, turns_of
+from otherhand.marks import led_setting, signs_of
 from otherhand.renamings import is_renaming
 from otherhand.webs import need_web
 
@@ -25,4 +25,4 @@ def signed(web, other, row):
     need_web(web, "web")
     need_web(other, "other")
     need_renaming(web, other, row, "row")
-    return tuple(zip(marks_led(web, other, row), turns_of(web, row)))
+    return signs_of(web, other, row)

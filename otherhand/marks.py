@@ -47,6 +47,11 @@ def marks_led(web, other, images):
     return hands + sides
 
 
+def signs_of(web, other, images):
+    """For each mark the number of its image, and -1 if it is turned, otherwise 1."""
+    return tuple(zip(marks_led(web, other, images), turns_of(web, images)))
+
+
 def led_setting(web, other, images, setting):
     """The setting of the other web to which a renaming leads one of a web."""
     found = [1] * len(setting)

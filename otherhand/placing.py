@@ -73,7 +73,9 @@ def extend_placement(one, other, images, placed, found, most):
         extend_placement(one, other, left, {**placed, piece: image}, found, most)
 
 
-def need_few_placements(web, other):
-    """Raises TooMany if the core of a web can be placed in too many ways."""
-    if len(placements(plain_sight(web), plain_sight(other), MOST_RENAMINGS)) > MOST_RENAMINGS:
+def few_placements(web, other):
+    """The ways to place the core of a web by plain sights; TooMany if there are too many."""
+    found = placements(plain_sight(web), plain_sight(other), MOST_RENAMINGS)
+    if len(found) > MOST_RENAMINGS:
         raise TooMany("renamings", MOST_RENAMINGS)
+    return found

@@ -2,7 +2,7 @@
 
 from otherhand.bodies import need_body
 from otherhand.papers import Denial, Paper
-from otherhand.placing import left_open, need_few_placements, next_piece, open_images
+from otherhand.placing import few_placements, left_open, next_piece, open_images
 from otherhand.sights import sight_of
 from otherhand.spreading import led_row
 from otherhand.words import refusing_words
@@ -34,7 +34,12 @@ def leading(one, other):
 
 def row_or_tree(one, other):
     """A row that leads one body to another one and None, or None and a refusing tree."""
-    need_few_placements(one.web, other.web)
+    few_placements(one.web, other.web)
+    return found_or_refused(one, other)
+
+
+def found_or_refused(one, other):
+    """As row_or_tree, for webs that are known to have few ways to place the core."""
     first, second = sight_of(one), sight_of(other)
     if len(first.core) != len(second.core):
         return None, "pieces"

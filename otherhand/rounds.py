@@ -14,6 +14,11 @@ def need_own_renaming(web, row):
 def rounds(web, row):
     """The rounds of a renaming: their marks, whether they are odd, and odd in the mirror."""
     need_own_renaming(web, row)
+    return rounds_of(web, row)
+
+
+def rounds_of(web, row):
+    """As rounds, for what is known to be a renaming."""
     images = marks_led(web, web, row)
     turns = turns_of(web, row)
     found = []
@@ -34,14 +39,20 @@ def rounds(web, row):
 
 def left_by(web, row):
     """How many settings a renaming leaves."""
-    told = rounds(web, row)
-    return 0 if any([odd for _, odd, _ in told]) else 1 << len(told)
+    return many_left(rounds(web, row))[0]
 
 
 def left_in_mirror(web, row):
     """How many settings a renaming leaves in the mirror."""
-    told = rounds(web, row)
-    return 0 if any([odd for _, _, odd in told]) else 1 << len(told)
+    return many_left(rounds(web, row))[1]
+
+
+def many_left(told):
+    """How many settings such rounds leave, and how many in the mirror."""
+    many = 1 << len(told)
+    is_odd = any([odd for _, odd, _ in told])
+    is_odd_in_mirror = any([odd for _, _, odd in told])
+    return (0 if is_odd else many, 0 if is_odd_in_mirror else many)
 
 
 def kept_settings(web, row):

@@ -77,24 +77,33 @@ def counts(body, mark):
     return row is None
 
 
+def where_it_counts(web, mark):
+    """For each setting of a web, ascending, whether the mark counts in it."""
+    least = {setting: sort for setting, sort in least_settings(web)}
+    found = {}
+    for setting in least:
+        turned = setting[:mark] + (-setting[mark],) + setting[mark + 1:]
+        found[setting] = least[turned] != least[setting]
+    return found
+
+
 def sway(web, mark):
     """Whether a mark counts in all bodies of a web, in some, or in none."""
     need_web(web, "web")
     need_mark(web, mark)
-    least = {setting: sort for setting, sort in least_settings(web)}
-    counting = None
-    lacking = None
-    for setting in least:
-        turned = setting[:mark] + (-setting[mark],) + setting[mark + 1:]
-        if least[turned] != least[setting]:
-            counting = setting if counting is None else counting
-        else:
-            lacking = setting if lacking is None else lacking
-    return Sway(how_it_counts(counting, lacking), counting, lacking)
+    does_count = where_it_counts(web, mark)
+    counting = [setting for setting in does_count if does_count[setting]]
+    lacking = [setting for setting in does_count if not does_count[setting]]
+    return Sway(how_it_counts(counting, lacking), first_or_none(counting), first_or_none(lacking))
+
+
+def first_or_none(settings):
+    """The first of some settings, None if there is none."""
+    return settings[0] if settings else None
 
 
 def how_it_counts(counting, lacking):
-    """The word for a mark that counts in one setting, or None, and lacks in another one."""
-    if lacking is None:
+    """The word for a mark that counts in some settings, and lacks in others."""
+    if not lacking:
         return "firm"
-    return "idle" if counting is None else "borrowed"
+    return "borrowed" if counting else "idle"

@@ -82,6 +82,13 @@ def keep_side(one, other, tie, row):
         exchange_like(one, tie[1], row)
 
 
+def lead_children(one, other, piece, row):
+    """Gives the branches of a piece their images, so that its hand comes out right."""
+    place_branches(one, other, piece, row)
+    if piece in one.web.hubs:
+        keep_hand(one, other, piece, row)
+
+
 def settle(one, other, piece, row):
     """Leads what hangs at a piece, whose own branches have their images already.
 
@@ -92,9 +99,7 @@ def settle(one, other, piece, row):
     stiff = [at for at in children if is_tied_stiffly(one.web, piece, at)]
     others = [at for at in children if at not in stiff]
     for child in stiff + others:
-        place_branches(one, other, child, row)
-        if child in one.web.hubs:
-            keep_hand(one, other, child, row)
+        lead_children(one, other, child, row)
         if child in stiff:
             keep_side(one, other, tie_of(piece, child), row)
         settle(one, other, child, row)

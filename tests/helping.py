@@ -18,3 +18,26 @@ class Asking(unittest.TestCase):
         self.assertIs(type(caught.exception), type(error))
         self.assertEqual(vars(caught.exception), vars(error))
         return caught.exception
+
+
+def bent_values(value):
+    """The values that come of one, made of tuples, by a change in one place."""
+    if isinstance(value, tuple):
+        found = [value + ((),), None, list(value) and value[0]]
+        for at in range(len(value)):
+            ahead, behind = value[:at], value[at + 1:]
+            found += [ahead + behind, ahead + (value[at],) + value[at:]]
+            found += [ahead + (bent,) + behind for bent in bent_values(value[at])]
+            if at + 1 < len(value):
+                found.append(ahead + (value[at + 1], value[at]) + value[at + 2:])
+        found.append(value[::-1])
+    elif isinstance(value, bool) or value is None:
+        found = [0, 1, -1, (), "", "x", not value, None]
+    elif isinstance(value, int):
+        found = [value + 1, value - 1, -value, float(value), str(value), None, (value,), 10 ** 30]
+        if value in (0, 1):
+            found.append(bool(value))
+    else:
+        found = [None, 0, value + "x", value[:-1], value.upper(), (value,), tuple(value)]
+    # True and 1, or 1.0, would be equal for Python.
+    return [bent for bent in found if repr(bent) != repr(value)]

@@ -155,3 +155,55 @@ def web_with_all_hubs(many, ties, kinds=None):
     near = [sum(piece in tie for tie in ties) for piece in range(many)]
     hubs = [piece for piece in range(many) if near[piece] > 2]
     return Web(kinds or ["a"] * many, ties, hubs, [])
+
+
+def web_by_chance(rng, kinds, ties, hubs=1, stiff=0):
+    """A web of these pieces, hubs and stiff ties by chance, numbered anew; None if there is none."""
+    near = [sum(piece in tie for tie in ties) for piece in range(len(kinds))]
+    if max(near) > 4:
+        return None
+    stiff_ties = []
+    for tie in rng.sample(ties, len(ties)):
+        ends = {end for held in stiff_ties for end in held}
+        if rng.random() < stiff and all(near[end] in (2, 3) for end in tie) and not ends & set(tie):
+            stiff_ties.append(tie)
+    ends = {end for tie in stiff_ties for end in tie}
+    told = [piece for piece in range(len(kinds))
+            if near[piece] > 2 and piece not in ends and rng.random() < hubs]
+    return Web(kinds, ties, told, stiff_ties).renumbered(any_row(rng, len(kinds)))
+
+
+def like_arms(rng, most=16):
+    """Kinds and ties of a middle piece with several like arms, perhaps one other."""
+    arms = rng.randint(2, 4)
+    many = rng.randint(1, (most - 1) // arms)
+    inner = [(rng.randrange(piece), piece) for piece in range(1, many)]
+    arm_kinds = [rng.choice("aab") for _ in range(many)]
+    kinds, ties = ["a"], []
+    for _ in range(arms):
+        first = len(kinds)
+        kinds += arm_kinds
+        ties += [(0, first)] + [(first + low, first + high) for low, high in inner]
+    if arms < 4 and len(kinds) < most and rng.random() < 0.4:
+        ties.append((0, len(kinds)))
+        kinds.append("b")
+    return kinds, ties
+
+
+def like_halves(rng, most=16):
+    """Kinds and ties of two like halves with a tie between them."""
+    many = rng.randint(1, most // 2)
+    inner = [(rng.randrange(piece), piece) for piece in range(1, many)]
+    kinds = [rng.choice("aab") for _ in range(many)]
+    ties = inner + [(low + many, high + many) for low, high in inner] + [(0, many)]
+    return kinds + kinds, ties
+
+
+def parted_by_rows(values, rows, image):
+    """The values in ascending tuples, in order, of those that some row leads to one another."""
+    found = []
+    for value in values:
+        part = tuple(sorted({value} | {image(row, value) for row in rows}))
+        if part not in found:
+            found.append(part)
+    return tuple(found)

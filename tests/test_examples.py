@@ -6,7 +6,8 @@ from pathlib import Path
 
 MODULES = (
     "errors checks papers sums webs bodies joined branches codes renamings leading refusing"
-    " check_renamings sameness leastforms check_sameness rounds sorts"
+    " check_renamings sameness leastforms check_sameness rounds sorts counting check_sorts places"
+    " looks flats check_places pictures ladders wreaths"
 ).split()
 EXAMPLES = Path(__file__).resolve().parent / "examples.txt"
 
@@ -39,7 +40,7 @@ class TestExamples(unittest.TestCase):
                 else:
                     self.assertEqual(eval(line, names), eval(answer, names))
                 asked += 1
-        self.assertEqual(asked, 52)
+        self.assertEqual(asked, 87)
 
 
 if __name__ == "__main__":

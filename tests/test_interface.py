@@ -28,6 +28,17 @@ FUNCTIONS = {
               " kept_in_mirror(web,row)",
     "sorts": "sorts(web) mirrorlike_sorts(web) pairs_of(web) sort_at(web,number)"
              " number_of_sort(web,setting) counts(body,mark) sway(web,mark)",
+    "counting": "means(web) many_sorts(web) many_mirrorlike(web) all_handless(web) by_codes(web)",
+    "check_sorts": "shows_means(web,value) shows_sway(web,mark,value)",
+    "places": "new_kind(web) kins(body) open_kins(body) tie_kins(body) alike(body,one,other)"
+              " all_alike(body,ones,others)",
+    "looks": "look(body) parted(web)",
+    "flats": "flat_pieces(web) faced(body,piece,hand) faces(body,piece)",
+    "check_places": "shows_alike(body,one,other,value) shows_all_alike(body,ones,others,value)"
+                    " shows_faces(body,piece,value)",
+    "pictures": "picture_of(body) rows_for(body,hub)",
+    "ladders": "steps_between(one,other)",
+    "wreaths": "ways_between(one,other)",
 }
 CLASSES = {
     "papers": "Paper(word,*parts) Denial(word,*parts)",
@@ -36,12 +47,23 @@ CLASSES = {
     "refusing": "Led(row) Refused(tree)",
     "sameness": "One(row) MirrorOf(row) Neither(tree,mirrored) Mirrorlike(row) Handed(tree)",
     "sorts": "Sway(how,counting,lacking)",
+    "counting": "Means(rows)",
+    "places": "Alike(row) MirrorAlike(row) Unlike(tree,mirrored)",
+    "pictures": "Picture(web,rows,sides)",
+    "ladders": "Ladder(top,rungs,bottom)",
+    "wreaths": "Wreath(rungs)",
 }
 METHODS = {
     ("webs", "Web"): "neighbours(self,piece) others(self,tie) seats(self,hub)"
                      " with_kind(self,piece,kind) renumbered(self,row) read(text)",
     ("bodies", "Body"): "hand(self,hub) side(self,tie) turned(self,lot) mirrored(self)"
                         " with_kind(self,piece,kind) renumbered(self,row) read(text)",
+    ("pictures", "Picture"): "body(self) exchanged(self,hub,one,other) flipped(self,hub)"
+                             " mirrored(self) from_behind(self)",
+    ("ladders", "Ladder"): "body(self) picture(self) half_about(self) exchanged(self,rung)"
+                           " mirrored(self) rolled(self,end) read(text)",
+    ("wreaths", "Wreath"): "body(self) picture(self) begun_at(self,rung) exchanged(self,rung)"
+                           " laid_over(self) mirrored(self) read(text)",
 }
 
 

@@ -9,14 +9,14 @@ from pathlib import Path
 PACKAGE = Path(__file__).resolve().parent.parent / "otherhand"
 FILES = sorted(PACKAGE.glob("*.py"))
 BUILTINS = set(
-    "len range enumerate zip min max sum abs sorted reversed int str bool list tuple dict"
+    "len range enumerate zip min max sum abs sorted reversed int str bool list tuple dict set"
     " isinstance ord repr any all divmod ValueError staticmethod super".split()
 )
-LIBRARY = {"math": {"gcd"}}
+LIBRARY = {"math": {"gcd", "lcm", "comb"}, "itertools": {"permutations"}}
 DOUBLE = {"__init__", "__eq__", "__str__", "__len__", "__bool__"}
 METHODS = set(
     "append clear copy count endswith extend find get index insert isalnum isalpha isdigit"
-    " items join keys ljust lower lstrip partition pop remove replace reverse rfind split"
+    " items join keys ljust lower lstrip partition pop remove replace reverse rfind setdefault split"
     " startswith strip update upper values zfill bit_length".split()
 )
 STATEMENTS = (

@@ -1,6 +1,8 @@
 import unittest
 
+from otherhand.counting import Means
 from otherhand.papers import Denial, Paper, fixed
+from otherhand.places import Alike, MirrorAlike, Unlike
 from otherhand.refusing import Led, Refused
 from otherhand.sameness import Handed, MirrorOf, Mirrorlike, Neither, One
 from otherhand.sorts import Sway
@@ -14,8 +16,12 @@ CLASSES = {
     Mirrorlike: ("row",),
     Handed: ("tree",),
     Sway: ("how", "counting", "lacking"),
+    Means: ("rows",),
+    Alike: ("row",),
+    MirrorAlike: ("row",),
+    Unlike: ("tree", "mirrored"),
 }
-DENIALS = (Refused, Neither, Handed)
+DENIALS = (Refused, Neither, Handed, Unlike)
 
 
 class TestPapers(unittest.TestCase):
