@@ -1,7 +1,7 @@
 """Bodies: webs with a setting of their marks."""
 
 from otherhand.errors import BadBody, NoMark
-from otherhand.given import is_hub, is_stiff, need_few_marks, need_lot, need_setting
+from otherhand.given import is_stiff, need_few_marks, need_hub, need_lot, need_setting
 from otherhand.marks import hub_mark, led_setting, tie_mark
 from otherhand.texts import read_parts, told_items
 from otherhand.webs import need_web, read_whole
@@ -46,8 +46,7 @@ class Body:
 
     def hand(self, hub):
         """The hand of a hub."""
-        if not is_hub(self.web, hub):
-            raise NoMark(hub)
+        need_hub(self.web, hub)
         return self.setting[hub_mark(self.web, hub)]
 
     def side(self, tie):

@@ -37,7 +37,7 @@ def has_like(entries):
     return any([one == other for one, other in zip(entries, entries[1:])])
 
 
-def ranked(pairs):
+def descending(pairs):
     """The entries and the branches of pairs of both, by entries, descending."""
     ordered = sorted(pairs, key=lambda pair: pair[0], reverse=True)
     return tuple([pair[0] for pair in ordered]), tuple([pair[1] for pair in ordered])
@@ -56,7 +56,7 @@ def branch_code(web, setting, piece, ahead, ranks):
     for child in codes:
         first = first_beside(ahead, codes, child)
         pairs.append((branch_entry(web, setting, (piece, child), first, codes[child], ranks), child))
-    entries, children = ranked(pairs)
+    entries, children = descending(pairs)
     ranks[piece] = (entries, children)
     hub = 1 if piece in web.hubs else 0
     sign = 0
@@ -71,7 +71,7 @@ def first_beside(ahead, codes, child):
     if ahead is not None:
         return ahead
     # No other tie of an end of a stiff tie is stiff, so codes rank as entries do.
-    others, pieces = ranked([(codes[other], other) for other in codes if other != child])
+    others, pieces = descending([(codes[other], other) for other in codes if other != child])
     return None if has_like(others) or not pieces else pieces[0]
 
 

@@ -4,9 +4,10 @@ Each function raises the error that the general rules tell for its value.
 """
 
 from otherhand.checks import first_twice, is_integer, is_numbers, is_sign, is_within
-from otherhand.errors import BadBody, BadLot, BadRow, NoMark, NoPiece, TooMany, Twice
+from otherhand.errors import BadBody, BadLot, BadRow, Misfit, NoMark, NoPiece, TooMany, Twice
 
 MOST_MARKS = 10
+MOST_TWISTS = 8
 
 
 def is_row(value, many):
@@ -41,6 +42,27 @@ def need_mark(web, value):
         raise NoMark(value)
 
 
+def need_hub(web, value):
+    if not is_hub(web, value):
+        raise NoMark(value)
+
+
+def need_two_neighbours(web, hub, one, other):
+    """Asks for a hub and two unlike neighbours of it."""
+    need_hub(web, hub)
+    for piece in (one, other):
+        if not is_integer(piece) or piece not in web.near[hub]:
+            raise NoPiece(piece)
+    if one == other:
+        raise Twice(other)
+
+
+def need_one_web(one, other):
+    """Asks whether two values are of one web."""
+    if one.web != other.web:
+        raise Misfit("webs")
+
+
 def need_row(many, value, part):
     if not is_row(value, many):
         raise BadRow(part)
@@ -62,5 +84,18 @@ def need_lot(web, value, part):
 
 
 def need_few_marks(web):
-    if len(web.marks) > MOST_MARKS:
-        raise TooMany("marks", MOST_MARKS)
+    need_marks_within(web, MOST_MARKS)
+
+
+def need_marks_within(web, most):
+    if len(web.marks) > most:
+        raise TooMany("marks", most)
+
+
+def need_twists(web, value):
+    if not isinstance(value, (list, tuple)) or not 1 <= len(value) <= MOST_TWISTS:
+        raise BadLot("twists")
+    if not all([is_numbers(lot) for lot in value]):
+        raise BadLot("twists")
+    for lot in value:
+        need_lot(web, lot, "twists")

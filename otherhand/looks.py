@@ -1,7 +1,7 @@
 """Looks: what an eye that has no hand sees of the places of a body."""
 
 from otherhand.bodies import Body, need_body
-from otherhand.errors import TooMany
+from otherhand.given import need_marks_within
 from otherhand.placing import few_placements
 from otherhand.places import open_kins_by
 from otherhand.sorts import sorts
@@ -26,8 +26,7 @@ def look_by(body, ways):
 def parted(web):
     """The pairs of a look and of all sorts of a web that have it, ascending."""
     need_web(web, "web")
-    if len(web.marks) > MOST_MARKS_PARTED:
-        raise TooMany("marks", MOST_MARKS_PARTED)
+    need_marks_within(web, MOST_MARKS_PARTED)
     ways = few_placements(web, web)
     found = {}
     for sort in sorts(web):

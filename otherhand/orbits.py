@@ -126,12 +126,3 @@ def settings_like(web, setting):
     settings = settings_of(web)
     numbers = reached_by(steps_of(web), number_of(setting))
     return tuple([settings[number] for number in numbers])
-
-
-def least_numbers(web):
-    """For the number of each setting the least number of its sort."""
-    found = {}
-    for part in parted_by(steps_of(web), list(range(1 << len(web.marks)))):
-        for number in part:
-            found[number] = part[0]
-    return found

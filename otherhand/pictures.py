@@ -4,8 +4,8 @@ from itertools import permutations
 
 from otherhand.bodies import Body, need_body
 from otherhand.checks import is_integer, is_numbers, is_odd, is_sign
-from otherhand.errors import BadPicture, NoMark, NoPiece, Twice
-from otherhand.given import is_hub
+from otherhand.errors import BadPicture
+from otherhand.given import need_hub, need_two_neighbours
 from otherhand.marks import hub_mark
 from otherhand.texts import MOST_NEIGHBOURS
 from otherhand.webs import need_web
@@ -133,20 +133,6 @@ class Picture:
         """The picture as it is seen from behind: the same body."""
         rows = [row_flipped((row[0][::-1], *row[1:])) for row in self.rows]
         return Picture(self.web, rows, self.sides)
-
-
-def need_hub(web, hub):
-    if not is_hub(web, hub):
-        raise NoMark(hub)
-
-
-def need_two_neighbours(web, hub, one, other):
-    need_hub(web, hub)
-    for piece in (one, other):
-        if not is_integer(piece) or piece not in web.near[hub]:
-            raise NoPiece(piece)
-    if one == other:
-        raise Twice(other)
 
 
 def picture_of(body):

@@ -1,7 +1,7 @@
 """Webs and bodies as they are seen from their cores."""
 
 from otherhand.branches import core_of
-from otherhand.coding import branch_code, is_tied_stiffly, ranked
+from otherhand.coding import branch_code, is_tied_stiffly, descending
 
 
 class Sight:
@@ -31,7 +31,7 @@ def core_ranks(web, setting, core, piece, ranks):
         if child not in core:
             code = branch_code(web, setting, child, piece, ranks)
             pairs.append(((code, is_tied_stiffly(web, piece, child), 0), child))
-    return ranked(pairs)
+    return descending(pairs)
 
 
 def sight_of(body):

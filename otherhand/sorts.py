@@ -1,11 +1,12 @@
 """The sorts of a web, and the marks that count."""
 
-from otherhand.bodies import mirrored_setting, need_body, settings_of
+from otherhand.bodies import need_body
 from otherhand.checks import is_within
 from otherhand.errors import BadNumber
 from otherhand.given import need_mark, need_setting
-from otherhand.orbits import least_numbers, number_of
+from otherhand.orbits import bit_of, number_of
 from otherhand.papers import Paper
+from otherhand.partings import Parting
 from otherhand.refusing import row_or_tree
 from otherhand.webs import need_web
 
@@ -20,24 +21,18 @@ class Sway(Paper):
         self.lacking = self.parts[2]
 
 
-def least_settings(web):
-    """For each setting of a web, ascending, the pair of it and of the least of its sort."""
-    settings = settings_of(web)
-    least = least_numbers(web)
-    return [(setting, settings[least[at]]) for at, setting in enumerate(settings)]
-
-
 def sorts(web):
     """All sorts of a web, ascending, each told by its least setting."""
     need_web(web, "web")
-    return tuple([setting for setting, least in least_settings(web) if setting == least])
+    parting = Parting(web)
+    return tuple([parting.settings[sort] for sort in parting.parts])
 
 
 def sorts_and_images(web):
     """For each sort of a web, ascending, the pair of it and of its mirror image."""
-    least = {setting: sort for setting, sort in least_settings(web)}
-    own = [setting for setting in least if setting == least[setting]]
-    return [(sort, least[mirrored_setting(web, sort)]) for sort in own]
+    parting = Parting(web)
+    settings = parting.settings
+    return [(settings[sort], settings[parting.image_of(sort)]) for sort in parting.parts]
 
 
 def mirrorlike_sorts(web):
@@ -64,9 +59,8 @@ def number_of_sort(web, setting):
     """The number of the sort of a setting."""
     need_web(web, "web")
     need_setting(web, setting, "setting")
-    rows = least_settings(web)
-    found = [one for one, least in rows if one == least]
-    return found.index(rows[number_of(setting)][1])
+    parting = Parting(web)
+    return list(parting.parts).index(parting.least[number_of(setting)])
 
 
 def counts(body, mark):
@@ -79,11 +73,12 @@ def counts(body, mark):
 
 def where_it_counts(web, mark):
     """For each setting of a web, ascending, whether the mark counts in it."""
-    least = {setting: sort for setting, sort in least_settings(web)}
+    parting = Parting(web)
+    least = parting.least
+    bit = bit_of(len(web.marks), mark)
     found = {}
-    for setting in least:
-        turned = setting[:mark] + (-setting[mark],) + setting[mark + 1:]
-        found[setting] = least[turned] != least[setting]
+    for number, setting in enumerate(parting.settings):
+        found[setting] = least[number ^ bit] != least[number]
     return found
 
 

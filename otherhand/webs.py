@@ -5,13 +5,12 @@ from otherhand.errors import (
     BadText,
     BadWeb,
     HandError,
-    NoMark,
     NoPiece,
     NoTie,
     TooMany,
     Twice,
 )
-from otherhand.given import is_hub, need_piece, need_row
+from otherhand.given import need_hub, need_piece, need_row
 from otherhand.texts import MOST_NEIGHBOURS, MOST_PIECES, items_of, read_parts, told_items
 
 FEWEST_OF_A_HUB = 3
@@ -180,8 +179,7 @@ class Web:
 
     def seats(self, hub):
         """The seats of a hub, None for the bare one."""
-        if not is_hub(self, hub):
-            raise NoMark(hub)
+        need_hub(self, hub)
         near = self.near[hub]
         return (None,) + near if len(near) < MOST_NEIGHBOURS else near
 

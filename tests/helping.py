@@ -23,7 +23,7 @@ class Asking(unittest.TestCase):
 def bent_values(value):
     """The values that come of one, made of tuples, by a change in one place."""
     if isinstance(value, tuple):
-        found = [value + ((),), None, list(value) and value[0]]
+        found = [value + ((),), None, value[0] if value else 0]
         for at in range(len(value)):
             ahead, behind = value[:at], value[at + 1:]
             found += [ahead + behind, ahead + (value[at],) + value[at:]]

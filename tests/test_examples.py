@@ -7,7 +7,8 @@ from pathlib import Path
 MODULES = (
     "errors checks papers sums webs bodies joined branches codes renamings leading refusing"
     " check_renamings sameness leastforms check_sameness rounds sorts counting check_sorts places"
-    " looks flats check_places pictures ladders wreaths"
+    " looks flats check_places pictures ladders wreaths ranks letters check_names turnings twists"
+    " reached check_twists mixtures works"
 ).split()
 EXAMPLES = Path(__file__).resolve().parent / "examples.txt"
 
@@ -40,7 +41,7 @@ class TestExamples(unittest.TestCase):
                 else:
                     self.assertEqual(eval(line, names), eval(answer, names))
                 asked += 1
-        self.assertEqual(asked, 87)
+        self.assertEqual(asked, 113)
 
 
 if __name__ == "__main__":

@@ -39,6 +39,17 @@ FUNCTIONS = {
     "pictures": "picture_of(body) rows_for(body,hub)",
     "ladders": "steps_between(one,other)",
     "wreaths": "ways_between(one,other)",
+    "ranks": "plain_ranked(web,piece) ranked(body,piece)",
+    "letters": "letters(body) stays(body) names_of(body) body_by(web,letters)",
+    "check_names": "shows_names(body,value)",
+    "turnings": "unlike_marks(one,other,row) fewest_turns(one,other) farthest(web)"
+                " exchanged(body,hub,one,other)",
+    "twists": "twist_sum(web,twists,numbers) twisted(body,twists,numbers) needless(web,twists)"
+              " led_by(one,other,twists) fewest_twists(one,other,twists)",
+    "reached": "reached(body,twists) joined_sorts(web,twists) are_joined(web,twists)",
+    "check_twists": "shows_turns(one,other,value) shows_led_by(one,other,twists,value)",
+    "mixtures": "alone(web,setting) even(web) mixed(one,other,share) told_apart(one,other)",
+    "works": "handless(work) keeps_balance(work)",
 }
 CLASSES = {
     "papers": "Paper(word,*parts) Denial(word,*parts)",
@@ -52,6 +63,11 @@ CLASSES = {
     "pictures": "Picture(web,rows,sides)",
     "ladders": "Ladder(top,rungs,bottom)",
     "wreaths": "Wreath(rungs)",
+    "letters": "Names(letters,ranks)",
+    "turnings": "Turns(lot,row)",
+    "twists": "By(numbers,row) Barred(rows)",
+    "mixtures": "Mixture(web,shares)",
+    "works": "Work(web,rows) Handless() HandedAt(setting) KeepsBalance() Upsets(setting)",
 }
 METHODS = {
     ("webs", "Web"): "neighbours(self,piece) others(self,tie) seats(self,hub)"
@@ -64,6 +80,8 @@ METHODS = {
                            " mirrored(self) rolled(self,end) read(text)",
     ("wreaths", "Wreath"): "body(self) picture(self) begun_at(self,rung) exchanged(self,rung)"
                            " laid_over(self) mirrored(self) read(text)",
+    ("mixtures", "Mixture"): "share(self,setting) mirrored(self)",
+    ("works", "Work"): "after(self,mixture)",
 }
 
 

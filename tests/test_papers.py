@@ -1,11 +1,15 @@
 import unittest
 
 from otherhand.counting import Means
+from otherhand.letters import Names
 from otherhand.papers import Denial, Paper, fixed
 from otherhand.places import Alike, MirrorAlike, Unlike
 from otherhand.refusing import Led, Refused
 from otherhand.sameness import Handed, MirrorOf, Mirrorlike, Neither, One
 from otherhand.sorts import Sway
+from otherhand.turnings import Turns
+from otherhand.twists import Barred, By
+from otherhand.works import HandedAt, Handless, KeepsBalance, Upsets
 
 CLASSES = {
     Led: ("row",),
@@ -20,8 +24,16 @@ CLASSES = {
     Alike: ("row",),
     MirrorAlike: ("row",),
     Unlike: ("tree", "mirrored"),
+    Names: ("letters", "ranks"),
+    Turns: ("lot", "row"),
+    By: ("numbers", "row"),
+    Barred: ("rows",),
+    Handless: (),
+    HandedAt: ("setting",),
+    KeepsBalance: (),
+    Upsets: ("setting",),
 }
-DENIALS = (Refused, Neither, Handed, Unlike)
+DENIALS = (Refused, Neither, Handed, Unlike, Barred, HandedAt, Upsets)
 
 
 class TestPapers(unittest.TestCase):
