@@ -1,8 +1,8 @@
 """Rounds of marks, and the settings that a renaming of a web leaves."""
 
-from otherhand.bodies import mirrored_setting, settings_of
+from otherhand.given import need_few_marks
 from otherhand.leading import need_renaming
-from otherhand.marks import led_setting, marks_led, turns_of
+from otherhand.marks import marks_led, turns_of
 from otherhand.webs import need_web
 
 
@@ -58,15 +58,47 @@ def many_left(told):
 def kept_settings(web, row):
     """The settings that a renaming leaves, ascending."""
     need_own_renaming(web, row)
-    kept = [one for one in settings_of(web) if led_setting(web, web, row, one) == one]
-    return tuple(kept)
+    need_few_marks(web)
+    return settings_kept(marks_led(web, web, row), turns_of(web, row))
 
 
 def kept_in_mirror(web, row):
     """The settings that a renaming leaves in the mirror, ascending."""
     need_own_renaming(web, row)
-    kept = []
-    for setting in settings_of(web):
-        if led_setting(web, web, row, setting) == mirrored_setting(web, setting):
-            kept.append(setting)
-    return tuple(kept)
+    need_few_marks(web)
+    hands = len(web.hubs)
+    turns = [-turn if mark < hands else turn for mark, turn in enumerate(turns_of(web, row))]
+    return settings_kept(marks_led(web, web, row), turns)
+
+
+def settings_kept(images, turns):
+    """The settings, ascending, that stay if marks are led to these images and so turned."""
+    held = held_by_firsts(images, turns)
+    if held is None:
+        return ()
+    settings = [()]
+    # The first mark of a round is free, and ahead of all that hang on it: so they ascend.
+    for mark, (first, sign) in enumerate(held):
+        if first == mark:
+            settings = [setting + (free,) for setting in settings for free in (-1, 1)]
+        else:
+            settings = [setting + (sign * setting[first],) for setting in settings]
+    return tuple(settings)
+
+
+def held_by_firsts(images, turns):
+    """For each mark the first one of its round, and 1 if it must be like that one, otherwise -1.
+
+    None if a round comes back to its first mark turned: then no setting stays.
+    """
+    held = [None] * len(images)
+    for first in range(len(images)):
+        mark = first
+        sign = 1
+        while held[mark] is None:
+            held[mark] = (first, sign)
+            sign = sign * turns[mark]
+            mark = images[mark]
+        if sign == -1:
+            return None
+    return held

@@ -1,4 +1,5 @@
 import random
+import time
 import unittest
 
 from otherhand.bodies import Body
@@ -7,9 +8,14 @@ from otherhand.leading import signed
 from otherhand.rounds import kept_in_mirror, kept_settings, left_by, left_in_mirror, rounds
 from tests.helping import ODD_VALUES, Asking
 from tests.oracle import all_rows, leads, mirror, settings, some_webs, web_of, web_with_all_hubs
+from tests.test_sorts import DOUBLE, TEN
 
 EVERY = (rounds, left_by, left_in_mirror, kept_settings, kept_in_mirror)
 STAR = web_of(4, [(0, 1), (0, 2), (0, 3)], [0])
+# Ten hubs of ten kinds in two rings of five.
+TWO_RINGS = web_of(10, [(at, (at + 1) % 5) for at in range(5)]
+                   + [(5 + at, 5 + (at + 1) % 5) for at in range(5)] + [(at, at + 5) for at in range(5)],
+                   list(range(10)), [], list("abcdefghij"))
 
 
 class TestRounds(Asking):
@@ -76,6 +82,49 @@ class TestRounds(Asking):
         ten = web_of(12, ties, list(range(10)))
         self.assertEqual(len(kept_settings(ten, plain)), 1024)
         self.assertEqual(kept_in_mirror(ten, plain), ())
+
+    def check_led_one_by_one(self, web, row):
+        led = {one: leads(web, web, row, one) for one in settings(web)}
+        kept = tuple(one for one in led if led[one] == one)
+        turned = tuple(one for one in led if led[one] == mirror(web, one))
+        self.assertEqual(kept_settings(web, row), kept)
+        self.assertEqual(kept_in_mirror(web, list(row)), turned)
+        self.assertEqual((left_by(web, row), left_in_mirror(web, row)), (len(kept), len(turned)))
+        return len(kept), len(turned)
+
+    def test_ten_marks_led_one_by_one(self):
+        rng = random.Random(113)
+        self.assertEqual(self.check_led_one_by_one(TWO_RINGS, tuple(range(10))), (1024, 0))
+        like = web_of(10, TWO_RINGS.ties, TWO_RINGS.hubs)
+        # Five hubs, one in the middle of four others, and five sides in a ring.
+        ring = [(at, (at + 1) % 15) for at in range(15)] + [(at, 15) for at in (0, 3, 6, 9)]
+        mixed = web_of(16, ring, [0, 3, 6, 9, 15], [(at, at + 1) for at in (1, 4, 7, 10, 13)])
+        found = []
+        for web in (like, DOUBLE, TEN, mixed):
+            self.assertEqual(len(web.marks), 10)
+            rows = all_rows(web, web)
+            self.assertGreater(len(rows), 1)
+            for row in rng.sample(rows, min(10, len(rows))):
+                found.append(self.check_led_one_by_one(web, row))
+        self.assertGreater(len([kept for kept, _ in found if kept == 0]), 3)
+        self.assertGreater(len([kept for kept, _ in found if 0 < kept < 1024]), 3)
+        self.assertGreater(len([turned for _, turned in found if turned]), 3)
+
+    def test_ten_marks_take_a_short_time(self):
+        row = tuple(range(10))
+        for web in (TWO_RINGS, TEN, DOUBLE):
+            for call in (kept_settings, kept_in_mirror):
+                begun = time.process_time()
+                for _ in range(20):
+                    found = call(web, row)
+                self.assertLess(time.process_time() - begun, 0.2)
+                self.assertEqual(found, tuple(settings(web)) if call is kept_settings else ())
+        half = tuple((at + 5) % 10 for at in range(10))
+        begun = time.process_time()
+        for _ in range(20):
+            self.assertEqual(len(kept_settings(TEN, half)), left_by(TEN, half))
+            self.assertEqual(len(kept_in_mirror(TEN, half)), left_in_mirror(TEN, half))
+        self.assertLess(time.process_time() - begun, 0.2)
 
     def test_errors(self):
         for call in EVERY:
