@@ -32,6 +32,11 @@ def is_tied_stiffly(web, one, other):
     return 1 if tie_of(one, other) in web.stiff else 0
 
 
+def bond(web, one, other):
+    """How two pieces are tied: 0 not at all, 1 not stiffly, 2 stiffly."""
+    return 1 + is_tied_stiffly(web, one, other) if other in web.near[one] else 0
+
+
 def has_like(entries):
     """Whether two of some entries, in their order, are equal."""
     return any([one == other for one, other in zip(entries, entries[1:])])

@@ -25,23 +25,20 @@ def is_void_tie(sight, tie):
     return has_like(entries_beside(sight, low, high)) or has_like(entries_beside(sight, high, low))
 
 
-def telling_hubs(sight):
-    """The hubs of the core whose hands are not void."""
-    return [hub for hub in sight.web.hubs if hub in sight.core and not is_void_hub(sight, hub)]
+def telling_marks(sight):
+    """The marks of the core that are not void, each with the core pieces that it asks for.
 
-
-def telling_ties(sight):
-    """The stiff ties at the core whose sides are not void."""
-    return [tie for tie in stiff_core_ties(sight) if not is_void_tie(sight, tie)]
-
-
-def are_placed(sight, ends, placed):
-    """Whether those ends that are in the core, and their core neighbours, are placed."""
-    asked = [end for end in ends if end in sight.core]
-    for end in ends:
-        if end in sight.core:
-            asked = asked + sight.within[end]
-    return all([piece in placed for piece in asked])
+    Of the hub, or of the ends of the tie, these are those in the core and their core neighbours.
+    """
+    found = []
+    for hub in sight.web.hubs:
+        if hub in sight.core and not is_void_hub(sight, hub):
+            found.append((hub, [hub, *sight.within[hub]]))
+    for tie in stiff_core_ties(sight):
+        if not is_void_tie(sight, tie):
+            ends = [end for end in tie if end in sight.core]
+            found.append((tie, ends + [piece for end in ends for piece in sight.within[end]]))
+    return found
 
 
 def hand_differs(one, other, placed, hub):
@@ -85,12 +82,25 @@ def side_differs(one, other, placed, tie):
     return side != told_side(other.web, other.setting, image_tie, [its[end] for end in image_tie])
 
 
+def mark_differs(one, other, placed, mark):
+    """Whether a core mark that is wholly placed is not that of its image."""
+    if isinstance(mark, tuple):
+        return side_differs(one, other, placed, mark)
+    return hand_differs(one, other, placed, mark)
+
+
 def marks_differ(one, other, placed):
     """Whether a core mark that is wholly placed, and not void, is not that of its image."""
-    for hub in telling_hubs(one):
-        if are_placed(one, [hub], placed) and hand_differs(one, other, placed, hub):
+    for mark, asked in one.telling:
+        if all([at in placed for at in asked]) and mark_differs(one, other, placed, mark):
             return True
-    for tie in telling_ties(one):
-        if are_placed(one, tie, placed) and side_differs(one, other, placed, tie):
-            return True
+    return False
+
+
+def new_marks_differ(one, other, placed, piece):
+    """As marks_differ, of the marks that ask for this piece."""
+    for mark, asked in one.telling:
+        if piece in asked and all([at in placed for at in asked]):
+            if mark_differs(one, other, placed, mark):
+                return True
     return False

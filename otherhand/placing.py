@@ -1,15 +1,9 @@
 """Placing the core of one web or body, piece by piece, on that of another one."""
 
-from otherhand.coding import is_tied_stiffly
 from otherhand.errors import TooMany
 from otherhand.sights import plain_sight
 
 MOST_RENAMINGS = 400
-
-
-def bond(web, one, other):
-    """How two pieces are tied: 0 not at all, 1 not stiffly, 2 stiffly."""
-    return 1 + is_tied_stiffly(web, one, other) if other in web.near[one] else 0
 
 
 def are_like_pieces(one, piece, other, image):
@@ -34,12 +28,12 @@ def open_images(one, other):
 def left_open(one, other, images, piece, image):
     """What is left of the open images when a piece is placed on an image."""
     left = {}
+    bonds = one.bonds[piece]
+    its = other.bonds[image]
     for far in images:
         if far != piece:
-            asked = bond(one.web, piece, far)
-            left[far] = [
-                at for at in images[far] if at != image and bond(other.web, image, at) == asked
-            ]
+            asked = bonds.get(far, 0)
+            left[far] = [at for at in images[far] if at != image and its.get(at, 0) == asked]
     return left
 
 

@@ -18,8 +18,6 @@ def need_tree(web):
 def rank_of(web, setting, piece, branch):
     """What tells the rank of a branch of a piece: its plain code, then its code."""
     plain = branch_code(web, None, branch, piece, {})
-    if setting is None:
-        return (plain,)
     return (plain, branch_code(web, setting, branch, piece, {}))
 
 

@@ -5,7 +5,7 @@ from otherhand.papers import Denial, Paper
 from otherhand.placing import few_placements, left_open, next_piece, open_images
 from otherhand.sights import sight_of
 from otherhand.spreading import led_row
-from otherhand.words import refusing_words
+from otherhand.words import refusing_word
 
 
 class Led(Paper):
@@ -56,9 +56,9 @@ def placed_or_tree(one, other, images, placed):
     piece = next_piece(images)
     tries = []
     for image in other.core:
-        words = refusing_words(one, other, placed, piece, image)
-        if words:
-            tries.append(words[0])
+        word = refusing_word(one, other, placed, (piece, image), image in images[piece])
+        if word is not None:
+            tries.append(word)
             continue
         left = left_open(one, other, images, piece, image)
         found, tree = placed_or_tree(one, other, left, {**placed, piece: image})

@@ -1,9 +1,10 @@
 """Renamings of webs, and rows of images."""
 
 from otherhand.checks import is_integer
+from otherhand.coding import bond
 from otherhand.errors import BadNumber, BadRow, Misfit, TooMany
 from otherhand.given import is_row
-from otherhand.placing import MOST_RENAMINGS, bond, placements
+from otherhand.placing import MOST_RENAMINGS, placements
 from otherhand.sights import plain_sight
 from otherhand.spreading import exchanging_rows, plain_row
 from otherhand.texts import MOST_PIECES

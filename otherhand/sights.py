@@ -1,7 +1,8 @@
 """Webs and bodies as they are seen from their cores."""
 
 from otherhand.branches import core_of
-from otherhand.coding import branch_code, is_tied_stiffly, descending
+from otherhand.coding import bond, branch_code, descending, is_tied_stiffly
+from otherhand.core_marks import telling_marks
 
 
 class Sight:
@@ -9,7 +10,9 @@ class Sight:
 
     Attributes: entries and branches, for each piece: the entries of the
     branches that hang at it, descending, and these branches in this order;
-    within: for each piece its neighbours in the core, ascending.
+    within: for each piece its neighbours in the core, ascending; bonds: for
+    each piece a dict of how it is tied to its neighbours; telling: the marks
+    of the core that tell something, each with the core pieces it asks for.
     """
 
     def __init__(self, web, setting):
@@ -22,6 +25,10 @@ class Sight:
         self.entries = [ranks[piece][0] for piece in range(len(web))]
         self.branches = [ranks[piece][1] for piece in range(len(web))]
         self.within = [[other for other in row if other in self.core] for row in web.near]
+        self.bonds = [
+            {other: bond(web, piece, other) for other in row} for piece, row in enumerate(web.near)
+        ]
+        self.telling = telling_marks(self)
 
 
 def core_ranks(web, setting, core, piece, ranks):

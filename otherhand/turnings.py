@@ -68,10 +68,10 @@ def farthest(web):
     parting = Parting(web)
     sorts = list(parting.parts)
     found = (0, sorts[0], sorts[0])
-    for one in sorts:
-        for other in sorts:
+    for at, one in enumerate(sorts):
+        for other in sorts[at + 1:]:
             fewest = min([many_bits(one ^ number) for number in parting.parts[other]])
-            if one < other and fewest > found[0]:
+            if fewest > found[0]:
                 found = (fewest, one, other)
     return (found[0], parting.settings[found[1]], parting.settings[found[2]])
 

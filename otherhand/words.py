@@ -1,7 +1,7 @@
 """The words that refuse an image for a core piece."""
 
-from otherhand.core_marks import marks_differ
-from otherhand.placing import bond
+from otherhand.coding import bond
+from otherhand.core_marks import marks_differ, new_marks_differ
 
 
 def ties_differ(one, other, placed, piece, image):
@@ -12,8 +12,8 @@ def ties_differ(one, other, placed, piece, image):
     return False
 
 
-def plain_words(one, other, placed, piece, image):
-    """All words that refuse the image, but "marks"."""
+def words_of_pair(one, other, placed, piece, image):
+    """All words that refuse the image, but "ties" and "marks"."""
     words = []
     if image in list(placed.values()):
         words.append("used")
@@ -26,9 +26,29 @@ def plain_words(one, other, placed, piece, image):
         or len(one.web.near[piece]) != len(other.web.near[image])
     ):
         words.append("branches")
+    return words
+
+
+def plain_words(one, other, placed, piece, image):
+    """All words that refuse the image, but "marks"."""
+    words = words_of_pair(one, other, placed, piece, image)
     if ties_differ(one, other, placed, piece, image):
         words.append("ties")
     return words
+
+
+def refusing_word(one, other, placed, step, is_open):
+    """A word that refuses the image of a piece, None if none does.
+
+    Step is the pair of both. An image that is not open is refused by a word but
+    "marks". No mark may differ by what is placed ahead.
+    """
+    piece, image = step
+    if is_open:
+        is_refused = new_marks_differ(one, other, {**placed, piece: image}, piece)
+        return "marks" if is_refused else None
+    words = words_of_pair(one, other, placed, piece, image)
+    return words[0] if words else "ties"
 
 
 def refusing_words(one, other, placed, piece, image):

@@ -3,6 +3,7 @@
 import unittest
 
 from otherhand.errors import HandError
+from otherhand.papers import Paper
 
 NO_INTEGERS = [True, False, None, "1", "", 1.0, [1], (1,), {}, b"1", object()]
 ODD_VALUES = [None, True, False, 0, 1, -1, 7, 10 ** 30, "", "a", "pieces", 1.5, [], (), [[]],
@@ -41,3 +42,23 @@ def bent_values(value):
         found = [None, 0, value + "x", value[:-1], value.upper(), (value,), tuple(value)]
     # True and 1, or 1.0, would be equal for Python.
     return [bent for bent in found if repr(bent) != repr(value)]
+
+
+class Agreeing:
+    """What says that it equals anything."""
+
+    def __eq__(self, other):
+        return True
+
+    __hash__ = None
+
+
+def same_named(paper):
+    """Values of other classes that have the name and the attributes of a paper."""
+    found = []
+    for base in (object, Paper):
+        made = type(type(paper).__name__, (base,), {"__init__": lambda self: None})
+        other = made()
+        vars(other).update(vars(paper))
+        found.append(other)
+    return found

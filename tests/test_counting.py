@@ -13,7 +13,7 @@ from otherhand.papers import Paper
 from otherhand.refusing import Led
 from otherhand.sorts import Sway, mirrorlike_sorts, sorts, sway
 from otherhand.webs import Web
-from tests.helping import NO_INTEGERS, ODD_VALUES, Asking, bent_values
+from tests.helping import NO_INTEGERS, ODD_VALUES, Asking, bent_values, same_named
 from tests.oracle import (
     all_rows, leads, like_arms, like_halves, mirror, settings, some_webs, sorts_by_trying, web_by_chance,
     web_of, web_with_all_hubs,
@@ -107,6 +107,34 @@ class TestAgainstListing(Asking):
         self.assertEqual(by_codes(both), (1, 1))
         apart = Web(["x", "x", "a", "b", "a", "b"], [(0, 1), (0, 2), (0, 3), (1, 4), (1, 5)], [], [(0, 1)])
         self.assertEqual(by_codes(apart), (2, 2))
+
+    def test_mirrored_pairs_at_stiff_ties(self):
+        # At each end of a stiff tie two like hubs: one with each hand is a mirrored pair.
+        ties = [(0, 1)]
+        for end in (0, 1):
+            for _ in range(2):
+                first = 2 + 3 * (len(ties) // 3)
+                ties += [(end, first), (first, first + 1), (first, first + 2)]
+        arms = ["h", "a", "b"] * 4
+        hubs = [2, 5, 8, 11]
+        # Three choices at each end, two of them unlike: no, one with two sides, no.
+        asked = {("x", "x", False): (6, 2), ("x", "y", False): (9, 1),
+                 ("x", "x", True): (7, 3), ("x", "y", True): (10, 2)}
+        for (one, other, is_stiff), pair in asked.items():
+            web = Web([one, other, *arms], ties, hubs, [(0, 1)] if is_stiff else [])
+            self.assertEqual(by_codes(web), (len(sorts(web)), len(mirrorlike_sorts(web))))
+            self.assertEqual(by_codes(web), pair)
+        # An arm of its own kind at one end, so that pairs stand at one end alone.
+        for arm in (["h", "a", "a"], ["h", "a", "c"]):
+            for at in (0, 3):
+                web = Web(["x", "x", *arms[:at], *arm, *arms[at + 3:]], ties, hubs, [(0, 1)])
+                self.assertEqual(by_codes(web), (len(sorts(web)), len(mirrorlike_sorts(web))))
+        # The same at a middle piece, from which the stiff tie hangs.
+        middle = Web(["m", "h", "a", "b", "h", "a", "b", "y", "h", "a", "b", "h", "a", "b"],
+                     [(0, 1), (1, 2), (1, 3), (0, 4), (4, 5), (4, 6), (0, 7), (7, 8), (8, 9), (8, 10),
+                      (7, 11), (11, 12), (11, 13)], [1, 4, 8, 11], [(0, 7)])
+        self.assertEqual(by_codes(middle), (len(sorts(middle)), len(mirrorlike_sorts(middle))))
+        self.assertEqual(by_codes(middle), (10, 2))
 
     def test_no_marks(self):
         for web in (web_of(1, []), web_of(2, [(0, 1)]), web_of(3, [(0, 1), (1, 2)])):
@@ -253,6 +281,10 @@ class TestChecks(Asking):
 
         self.assertIs(shows_means(STAR, FakeMeans(means(STAR).rows)), False)
         self.assertIs(shows_sway(STAR, 0, FakeSway("idle", None, (1,))), False)
+        for value in same_named(means(STAR)):
+            self.assertIs(shows_means(STAR, value), False)
+        for value in same_named(sway(STAR, 0)):
+            self.assertIs(shows_sway(STAR, 0, value), False)
 
 
 def all_sways(counting, lacking, how):

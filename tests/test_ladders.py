@@ -10,7 +10,7 @@ from otherhand.errors import BadText
 from otherhand.ladders import Ladder, steps_between
 from otherhand.sameness import same
 from otherhand.wreaths import Wreath, ways_between
-from tests.helping import NO_INTEGERS, ODD_VALUES, Asking
+from tests.helping import NO_INTEGERS, ODD_VALUES, Agreeing, Asking
 
 NO_KINDS = [None, True, 1, "", "A", "a b", "1a", "a" * 13, ["a"], ("a",), b"a", "a-"]
 VALID_LADDERS = ["KS" + "KKKS" * many + "K" for many in (1, 2, 3, 4)]
@@ -218,7 +218,7 @@ class TestLadders(Asking):
         ladder = Ladder("a", good * 2, "e")
         for value in (2, -1, 10 ** 30, *NO_INTEGERS):
             self.assert_raises(BadNumber("rung"), ladder.exchanged, value)
-        for value in [*ODD_VALUES, "Top", "left", "half", ["top"], ("bottom",)]:
+        for value in [*ODD_VALUES, "Top", "left", "half", ["top"], ("bottom",), Agreeing()]:
             self.assert_raises(BadPicture("end"), ladder.rolled, value)
         for value in (None, str(ladder), ladder.body(), Wreath(good * 3), 3):
             self.assert_raises(BadPicture("one"), steps_between, value, None)

@@ -12,7 +12,7 @@ from otherhand.papers import Denial, Paper
 from otherhand.sorts import mirrorlike_sorts, pairs_of, sorts
 from otherhand.webs import Web
 from otherhand.works import HandedAt, Handless, KeepsBalance, Upsets, Work, handless, keeps_balance
-from tests.helping import NO_INTEGERS, ODD_VALUES, Asking
+from tests.helping import ODD_VALUES, Agreeing, Asking
 from tests.oracle import mirror, settings, sorts_by_trying, web_of
 from tests.test_renamings import cube
 from tests.test_sorts import DOUBLE, ELEVEN, FULL, STAR, TEN, TWELVE
@@ -317,6 +317,12 @@ class TestWorks(Asking):
         self.assertIn(handless(work), (HandedAt((1, 1, 1)), HandedAt((-1, -1, -1))))
         self.assertIs(bool(keeps_balance(Work(web, rows[:2]))), False)
 
+    def test_handed_at_a_mirrorlike_sort_alone(self):
+        rows = [(("either", (-1, 1)), (1, 2), (1,)), (None, (1, 1), (0,)), (("one", (1, 1)), (1, 1), (0,))]
+        work = Work(PAIR, rows)
+        self.assertEqual(handless(work), HandedAt((-1, 1)))
+        self.assertEqual(keeps_balance(work), Upsets((-1, 1)))
+
     def test_facts(self):
         rng, found = listings(915, 20)
         for listing in found:
@@ -360,7 +366,7 @@ class TestWorks(Asking):
             self.assert_raises(BadWork("rows"), Work, PAIR, rows)
         for whom in [True, 3, "one", ("one",), ("one", (1, 1), 1), ("both", (1, 1)), (None, (1, 1)), (),
                      ("one", None), ("one", (1,)), ("either", (1, 0)), ("one", (True, 1)), ((1, 1), "one"),
-                     {"one": (1, 1)}, ("One", (1, 1)), (["one"], (1, 1))]:
+                     {"one": (1, 1)}, ("One", (1, 1)), (["one"], (1, 1)), (Agreeing(), (1, 1)), Agreeing()]:
             self.assert_raises(BadWork("rows"), Work, PAIR, [row, (whom, (1, 2), [0])])
         for share in [*NO_FRACTIONS, (3, 2), (-1, 2), (2, 1)]:
             self.assert_raises(BadWork("rows"), Work, PAIR, [row, (None, share, [0])])

@@ -16,7 +16,7 @@ from otherhand.ranks import plain_ranked, ranked
 from otherhand.refusing import Led
 from otherhand.sameness import mirrorlike, same
 from otherhand.webs import Web
-from tests.helping import NO_INTEGERS, ODD_VALUES, Asking, bent_values
+from tests.helping import NO_INTEGERS, ODD_VALUES, Agreeing, Asking, bent_values, same_named
 from tests.oracle import (
     all_rows, any_body, any_row, like_arms, like_halves, neighbours, others_of, settings, some_webs,
     sorts_by_trying, web_by_chance, web_of, web_with_all_hubs, wrong_pairs,
@@ -277,7 +277,7 @@ class TestNames(Asking):
             self.assert_raises(BadWeb("web"), body_by, value, None)
         for value in [*ODD_VALUES, "L", "LLL", ["L", "L"], ["L"] * 4, ["L", "L", "with"], ["L", "L", ""],
                       ["l", "L", "L"], ["L", "L", None], ["L", "L", ["L"]], ["L", "L", 1], {"L": 1},
-                      ["across", "L", "R"]]:
+                      ["across", "L", "R"], ["L", "L", Agreeing()], Agreeing()]:
             self.assert_raises(BadNames("letters"), body_by, FORK, value)
         for value in (["L"], [None], ["-", "-"], "-", [], ["-with"], ["With"]):
             self.assert_raises(BadNames("letters"), body_by, SPLIT, value)
@@ -341,6 +341,8 @@ class TestChecks(Asking):
             pass
 
         self.assertIs(shows_names(body, FakeNames(names, ranks)), False)
+        for value in same_named(Names(names, ranks)):
+            self.assertIs(shows_names(body, value), False)
 
 
 def is_right_row(body, end, row):

@@ -17,7 +17,7 @@ from otherhand.refusing import Led
 from otherhand.sameness import Neither, One, same
 from otherhand.sorts import sorts
 from otherhand.webs import Web
-from tests.helping import NO_INTEGERS, ODD_VALUES, Asking, bent_values
+from tests.helping import NO_INTEGERS, ODD_VALUES, Asking, bent_values, same_named
 from tests.oracle import (
     all_rows, any_body, any_row, leads, like_arms, like_halves, mirror, parted_by_rows, rows_leading,
     settings, some_webs, sorts_by_trying, web_by_chance, web_of, web_with_all_hubs,
@@ -424,6 +424,10 @@ class TestChecks(Asking):
             body = TWIN if made is Alike else CUP
             self.assertIs(shows_alike(body, 2, 3, made((1, 0, 3, 2, 5, 4))), True)
             self.assertIs(shows_alike(body, 2, 3, fake((1, 0, 3, 2, 5, 4))), False)
+            for value in same_named(made((1, 0, 3, 2, 5, 4))):
+                self.assertIs(shows_alike(body, 2, 3, value), False)
+        for value in same_named(paper):
+            self.assertIs(shows_alike(TWIN, 2, 4, value), False)
         self.assertIs(shows_alike(TWIN, 2, 4, Unlike(*paper.parts)), True)
         self.assertIs(shows_alike(TWIN, 2, 4, FakeUnlike(*paper.parts)), False)
 

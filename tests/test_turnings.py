@@ -15,7 +15,7 @@ from otherhand.refusing import Led
 from otherhand.sameness import same
 from otherhand.turnings import Turns, exchanged, farthest, fewest_turns, unlike_marks
 from otherhand.webs import Web
-from tests.helping import NO_INTEGERS, ODD_VALUES, Asking, bent_values
+from tests.helping import NO_INTEGERS, ODD_VALUES, Asking, bent_values, same_named
 from tests.oracle import (
     all_rows, any_body, any_setting, leads, like_arms, like_halves, neighbours, rows_leading, settings,
     some_webs, sorts_by_trying, web_by_chance, web_of, web_with_all_hubs,
@@ -223,6 +223,8 @@ class TestChecks(Asking):
             pass
 
         self.assertIs(shows_turns(one, one, FakeTurns((), row)), False)
+        for value in same_named(Turns((), row)):
+            self.assertIs(shows_turns(one, one, value), False)
         # Two like ends exchanged turn the hand: so no mark is to be turned.
         self.assertIs(shows_turns(one, one.mirrored(), Turns((), (0, 2, 1, 3))), True)
         self.assertIs(shows_turns(one, one.mirrored(), Turns((0,), row)), False)

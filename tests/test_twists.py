@@ -18,9 +18,10 @@ from otherhand.sums import sum_of
 from otherhand.turnings import unlike_marks
 from otherhand.twists import By, Barred, fewest_twists, led_by, needless, twist_sum, twisted
 from otherhand.webs import Web
-from tests.helping import NO_INTEGERS, ODD_VALUES, Asking, bent_values
+from tests.helping import NO_INTEGERS, ODD_VALUES, Asking, bent_values, same_named
 from tests.oracle import (
     all_rows, any_body, any_row, leads, settings, sorts_by_trying, web_of,
+    web_with_all_hubs,
 )
 from tests.test_counting import BUSH, RING_BUSH
 from tests.test_renamings import cube
@@ -138,6 +139,11 @@ class TestSums(Asking):
             self.assert_raises(TooMany("marks", 10), are_joined, web, [[0]])
             self.assertEqual(twist_sum(web, [[10, 0], [10]], [0, 1]), (0,))
             self.assertIs(bool(led_by(many, many, [[0]])), True)
+        # Marks come ahead of renamings, of which a ring of six pairs has 768.
+        wide = web_with_all_hubs(12, [(2 * at + k, (2 * at + 2 + j) % 12)
+                                      for at in range(6) for k in (0, 1) for j in (0, 1)])
+        self.assert_raises(TooMany("marks", 10), reached, Body(wide, [1] * 12), [[0]])
+        self.assert_raises(TooMany("marks", 10), joined_sorts, wide, [[0]])
         for web in (FULL, BUSH, RING_BUSH):
             self.assert_raises(TooMany("renamings", 400), reached, Body(web, [1] * len(web.marks)), [[0]])
             self.assert_raises(TooMany("renamings", 400), joined_sorts, web, [[0]])
@@ -348,6 +354,10 @@ class TestChecks(Asking):
 
         self.assertIs(shows_led_by(one, other, [(1,)], FakeBy((0,), row)), False)
         self.assertIs(shows_led_by(one, other, [(0, 1)], FakeBarred(rows)), False)
+        for value in same_named(By((0,), row)):
+            self.assertIs(shows_led_by(one, other, [(1,)], value), False)
+        for value in same_named(Barred(rows)):
+            self.assertIs(shows_led_by(one, other, [(0, 1)], value), False)
 
 
 def is_barring(value, rows):
