@@ -39,10 +39,7 @@ class Body:
     @staticmethod
     def read(text):
         """The body with this text."""
-        kinds, ties, hubs, stiff = read_parts(text, ("+", "-"), ("+", "-"))
-        web = read_whole(text, kinds, ties, list(hubs), list(stiff))
-        signs = [hubs[hub] for hub in web.hubs] + [stiff[tie] for tie in web.stiff]
-        return Body(web, [1 if sign == "+" else -1 for sign in signs])
+        return body_of_text(text)
 
     def hand(self, hub):
         """The hand of a hub."""
@@ -76,6 +73,14 @@ class Body:
         web = self.web.renumbered(row)
         images = {piece: at for at, piece in enumerate(row)}
         return Body(web, led_setting(self.web, web, images, self.setting))
+
+
+def body_of_text(text):
+    """The body with this text."""
+    kinds, ties, hubs, stiff = read_parts(text, ("+", "-"), ("+", "-"))
+    web = read_whole(text, kinds, ties, list(hubs), list(stiff))
+    signs = [hubs[hub] for hub in web.hubs] + [stiff[tie] for tie in web.stiff]
+    return Body(web, [1 if sign == "+" else -1 for sign in signs])
 
 
 def settings_of(web):

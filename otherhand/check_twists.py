@@ -1,19 +1,12 @@
 """Checks of papers about turned marks and twists."""
 
-from otherhand.checks import is_just, is_within
+from otherhand.checks import is_ascending_below, is_just
 from otherhand.given import need_one_web
 from otherhand.papers import class_name
 from otherhand.renamings import is_renaming
 from otherhand.sums import sum_of
 from otherhand.turnings import Turns, need_two_bodies, unlike_by, unlike_lots
 from otherhand.twists import Barred, By, need_two_bodies_and_twists
-
-
-def is_ascending_below(value, many):
-    """Whether a value is an ascending tuple of unlike integers from 0 to many - 1."""
-    if not isinstance(value, tuple) or not all([is_within(at, 0, many - 1) for at in value]):
-        return False
-    return all([one < other for one, other in zip(value, value[1:])])
 
 
 def shows_turns(one, other, value):

@@ -64,6 +64,18 @@ def is_just(value, told):
     return value is None if told is None else is_integer(value) and value == told
 
 
+def is_ascending_below(value, many):
+    """Whether a value is an ascending tuple of unlike integers from 0 to many - 1."""
+    if not isinstance(value, tuple) or not all([is_within(at, 0, many - 1) for at in value]):
+        return False
+    return are_ascending(value)
+
+
+def are_ascending(values):
+    """Whether values of one sort ascend, none of them twice."""
+    return all([one < other for one, other in zip(values, values[1:])])
+
+
 def lowest(number, by):
     """The fraction number by by in lowest terms."""
     shared = gcd(number, by)

@@ -20,14 +20,19 @@ def has_room(web, piece):
     return len(near) < MOST_NEIGHBOURS
 
 
+def need_room(web, piece, other, its):
+    """Asks whether these two pieces can be tied to one another."""
+    if not has_room(web, piece) or not has_room(other, its):
+        raise BadWeb("room")
+
+
 def joined(one, piece, other, its):
     """The body of two, with a further tie from a piece of one to one of other."""
     need_body(one, "one")
     need_piece(one.web, piece)
     need_body(other, "other")
     need_piece(other.web, its)
-    if not has_room(one.web, piece) or not has_room(other.web, its):
-        raise BadWeb("room")
+    need_room(one.web, piece, other.web, its)
     web = joined_web(one.web, piece, other.web, its)
     return Body(web, joined_setting(one, piece, other, its))
 

@@ -13,6 +13,14 @@ def sum_of(lots):
     return tuple(sorted([number for number in odd if odd[number]]))
 
 
+def choices_of(many):
+    """All ascending tuples of numbers from 0 to many - 1: shorter ones first, the less ones first."""
+    found = [()]
+    for number in range(many):
+        found = found + [choice + (number,) for choice in found]
+    return sorted(found, key=lambda choice: (len(choice), choice))
+
+
 def numbers_in(lots):
     """All numbers of some lots, ascending."""
     found = {}

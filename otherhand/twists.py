@@ -5,7 +5,7 @@ from otherhand.checks import first_twice, is_numbers, is_within
 from otherhand.errors import BadNumber
 from otherhand.given import need_one_web, need_twists
 from otherhand.papers import Denial, Paper
-from otherhand.sums import barring, sum_numbers, sum_of
+from otherhand.sums import barring, choices_of, sum_numbers, sum_of
 from otherhand.turnings import need_two_bodies, unlike_lots
 from otherhand.webs import need_web
 
@@ -100,10 +100,7 @@ def fewest_twists(one, other, twists):
 
 def fewest_by_sum(lots):
     """For each sum of some lots the fewest numbers of lots that make it, the least of these."""
-    choices = [()]
-    for number in range(len(lots)):
-        choices = choices + [choice + (number,) for choice in choices]
     found = {}
-    for choice in sorted(choices, key=lambda numbers: (len(numbers), numbers)):
+    for choice in choices_of(len(lots)):
         found.setdefault(sum_of([lots[number] for number in choice]), choice)
     return found

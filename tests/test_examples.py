@@ -8,7 +8,8 @@ MODULES = (
     "errors checks papers sums webs bodies joined branches codes renamings leading refusing"
     " check_renamings sameness leastforms check_sameness rounds sorts counting check_sorts places"
     " looks flats check_places pictures ladders wreaths ranks letters check_names turnings twists"
-    " reached check_twists mixtures works"
+    " reached check_twists mixtures works helpers check_mixtures sayings answers asking check_sayings"
+    " chains windows check_chains"
 ).split()
 EXAMPLES = Path(__file__).resolve().parent / "examples.txt"
 
@@ -41,7 +42,7 @@ class TestExamples(unittest.TestCase):
                 else:
                     self.assertEqual(eval(line, names), eval(answer, names))
                 asked += 1
-        self.assertEqual(asked, 113)
+        self.assertEqual(asked, 136)
 
 
 if __name__ == "__main__":

@@ -50,6 +50,17 @@ FUNCTIONS = {
     "check_twists": "shows_turns(one,other,value) shows_led_by(one,other,twists,value)",
     "mixtures": "alone(web,setting) even(web) mixed(one,other,share) told_apart(one,other)",
     "works": "handless(work) keeps_balance(work)",
+    "helpers": "helped(web,piece,helper,its)",
+    "check_mixtures": "shows_handless(work,value) shows_balance(work,value)",
+    "sayings": "saying_of(text) holds_in(saying,body)",
+    "answers": "fitting(told) fitting_sorts(told) judged(told,saying)",
+    "asking": "fewest_sayings(told,saying) best_mark(told)",
+    "check_sayings": "shows_judged(told,saying,value) shows_no_body(told,value)",
+    "chains": "chain_sorts(many) chain_mirrorlike(many) wreath_sorts(many) wreath_mirrorlike(many)"
+              " chain_least(setting) chain_at(many,number) number_of_chain(setting)"
+              " wreath_least(setting) chain_body(setting) wreath_body(setting)",
+    "windows": "windows(setting,width) chain_by(width,windows)",
+    "check_chains": "shows_chain(width,windows,value)",
 }
 CLASSES = {
     "papers": "Paper(word,*parts) Denial(word,*parts)",
@@ -68,6 +79,10 @@ CLASSES = {
     "twists": "By(numbers,row) Barred(rows)",
     "mixtures": "Mixture(web,shares)",
     "works": "Work(web,rows) Handless() HandedAt(setting) KeepsBalance() Upsets(setting)",
+    "sayings": "Product(lot,sign) IsMirrorlike(is_so=True) IsOne(setting,is_so=True) Told(web,sayings=())",
+    "answers": "Summed(numbers) Tried(tree) Open(one,other) NeverSummed(numbers) NeverTried(tree)"
+               " NoBody(tree)",
+    "windows": "ChainBy(setting) NoChain(why,words)",
 }
 METHODS = {
     ("webs", "Web"): "neighbours(self,piece) others(self,tie) seats(self,hub)"
@@ -82,6 +97,10 @@ METHODS = {
                            " laid_over(self) mirrored(self) read(text)",
     ("mixtures", "Mixture"): "share(self,setting) mirrored(self)",
     ("works", "Work"): "after(self,mixture)",
+    ("sayings", "Product"): "contrary(self)",
+    ("sayings", "IsMirrorlike"): "contrary(self)",
+    ("sayings", "IsOne"): "contrary(self)",
+    ("sayings", "Told"): "with_saying(self,saying)",
 }
 
 

@@ -1,5 +1,6 @@
 import unittest
 
+from otherhand.answers import NeverSummed, NeverTried, NoBody, Open, Summed, Tried
 from otherhand.counting import Means
 from otherhand.letters import Names
 from otherhand.papers import Denial, Paper, fixed
@@ -9,6 +10,7 @@ from otherhand.sameness import Handed, MirrorOf, Mirrorlike, Neither, One
 from otherhand.sorts import Sway
 from otherhand.turnings import Turns
 from otherhand.twists import Barred, By
+from otherhand.windows import ChainBy, NoChain
 from otherhand.works import HandedAt, Handless, KeepsBalance, Upsets
 
 CLASSES = {
@@ -32,8 +34,16 @@ CLASSES = {
     HandedAt: ("setting",),
     KeepsBalance: (),
     Upsets: ("setting",),
+    Summed: ("numbers",),
+    Tried: ("tree",),
+    Open: ("one", "other"),
+    NeverSummed: ("numbers",),
+    NeverTried: ("tree",),
+    NoBody: ("tree",),
+    ChainBy: ("setting",),
+    NoChain: ("why", "words"),
 }
-DENIALS = (Refused, Neither, Handed, Unlike, Barred, HandedAt, Upsets)
+DENIALS = (Refused, Neither, Handed, Unlike, Barred, HandedAt, Upsets, NeverSummed, NeverTried, NoBody, NoChain)
 
 
 class TestPapers(unittest.TestCase):
