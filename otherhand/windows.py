@@ -68,10 +68,7 @@ def need_windows(width, value):
         raise BadWindow("windows")
     if first_twice([window for window, _ in value]) is not None:
         raise BadWindow("windows")
-    asked = {tuple(window): many for window, many in value}
-    if length_by(width, asked) > MOST_SIGNS:
-        raise TooMany("hubs", MOST_SIGNS)
-    return asked
+    return {tuple(window): many for window, many in value}
 
 
 def length_by(width, asked):
@@ -92,6 +89,8 @@ def more_begun(asked):
 def chain_by(width, windows):
     """A row that has just these windows, or words that show that none has them."""
     asked = need_windows(width, windows)
+    if length_by(width, asked) > MOST_SIGNS:
+        raise TooMany("hubs", MOST_SIGNS)
     more = more_begun(asked)
     ends = sorted([word for word in more if more[word] > 0])
     if sum([more[word] for word in ends]) > 1:

@@ -61,6 +61,16 @@ FUNCTIONS = {
               " wreath_least(setting) chain_body(setting) wreath_body(setting)",
     "windows": "windows(setting,width) chain_by(width,windows)",
     "check_chains": "shows_chain(width,windows,value)",
+    "frames": "named_frame(name)",
+    "framed": "framed(frame,neighbours) many_framed(frame,neighbours) mirror_framed(frame,neighbours)"
+              " sort_framed(frame,seating) mirrored_seating(frame,seating) same_framed(frame,one,other)",
+    "shifts": "shifted(frame,seating,shift) joined_framed(frame,neighbours,shift)"
+              " way_framed(frame,one,other,shift)",
+    "check_frames": "shows_framed(frame,one,other,value) shows_way(frame,one,other,shift,value)",
+    "desk_lines": "read_line(line)",
+    "desk_deeds": "changed(shelf,line)",
+    "desk_asks": "answer_of(shelf,line)",
+    "stories": "replay(lines) parting(one,other) merged(one,other)",
 }
 CLASSES = {
     "papers": "Paper(word,*parts) Denial(word,*parts)",
@@ -83,6 +93,11 @@ CLASSES = {
     "answers": "Summed(numbers) Tried(tree) Open(one,other) NeverSummed(numbers) NeverTried(tree)"
                " NoBody(tree)",
     "windows": "ChainBy(setting) NoChain(why,words)",
+    "frames": "Frame(seats,swings,mirror)",
+    "framed": "Swung(row) MirrorSwung(row) Unswung(seats,mirrored)",
+    "shifts": "Shifts(steps,row) Shut(sorts)",
+    "shelves": "Shelf(bodies=(),about=None,sayings=())",
+    "desk": "Desk()",
 }
 METHODS = {
     ("webs", "Web"): "neighbours(self,piece) others(self,tie) seats(self,hub)"
@@ -101,6 +116,9 @@ METHODS = {
     ("sayings", "IsMirrorlike"): "contrary(self)",
     ("sayings", "IsOne"): "contrary(self)",
     ("sayings", "Told"): "with_saying(self,saying)",
+    ("shelves", "Shelf"): "body(self,name)",
+    ("desk", "Desk"): "told(self,*lines) tried(self,*lines) undo(self) redo(self) twin(self) __call__(self,line)"
+                      " __len__(self) __contains__(self,value) __eq__(self,other)",
 }
 
 

@@ -13,7 +13,7 @@ BUILTINS = set(
     " isinstance ord repr any all divmod ValueError staticmethod super".split()
 )
 LIBRARY = {"math": {"gcd", "lcm", "comb"}, "itertools": {"permutations"}}
-DOUBLE = {"__init__", "__eq__", "__str__", "__len__", "__bool__"}
+DOUBLE = {"__init__", "__eq__", "__str__", "__len__", "__bool__", "__call__", "__contains__"}
 METHODS = set(
     "append clear copy count endswith extend find get index insert isalnum isalpha isdigit"
     " items join keys ljust lower lstrip partition pop remove replace reverse rfind setdefault split"
@@ -128,7 +128,7 @@ class TestLanguage(unittest.TestCase):
             for at, node in enumerate(tree.body):
                 if isinstance(node, ast.Assign):
                     self.assertEqual(len(node.targets), 1)
-                    ast.literal_eval(node.value)
+                    self.check_value(tree, node)
                     bound.append(node.targets[0].id)
                 elif isinstance(node, ast.Expr):
                     self.assertTrue(at == 0 and isinstance(node.value, ast.Constant))
@@ -138,6 +138,18 @@ class TestLanguage(unittest.TestCase):
                     self.assertIsInstance(node, (ast.FunctionDef, ast.ClassDef))
                     bound.append(node.name)
             self.assertEqual(len(bound), len(set(bound)), path.name)
+
+    def check_value(self, tree, node):
+        """A plain value, or a dict of functions that are defined above it in its file."""
+        above = {part.name for part in tree.body if isinstance(part, ast.FunctionDef) and part.lineno < node.lineno}
+        names = [value for value in ast.walk(node.value) if isinstance(value, ast.Name)]
+        if not names:
+            ast.literal_eval(node.value)
+            return
+        self.assertIsInstance(node.value, ast.Dict)
+        self.assertEqual([value for value in node.value.values if value not in names], [])
+        self.assertLessEqual({name.id for name in names}, above)
+        self.assertTrue(all(isinstance(ast.literal_eval(key), str) for key in node.value.keys))
 
     def test_statements(self):
         for path, tree in trees():
@@ -150,7 +162,7 @@ class TestLanguage(unittest.TestCase):
             if node.name.startswith("__"):
                 self.assertIn(node.name, DOUBLE, where)
         for where, node in each(ast.ExceptHandler):
-            self.assertEqual(ast.unparse(node.type), "HandError", where)
+            self.assertIn(ast.unparse(node.type), ("HandError", "BadText"), where)
 
     def test_expressions(self):
         barred = (ast.Set, ast.SetComp, ast.GeneratorExp, ast.Await, ast.Yield, ast.NamedExpr)

@@ -2,11 +2,13 @@ import unittest
 
 from otherhand.answers import NeverSummed, NeverTried, NoBody, Open, Summed, Tried
 from otherhand.counting import Means
+from otherhand.framed import MirrorSwung, Swung, Unswung
 from otherhand.letters import Names
 from otherhand.papers import Denial, Paper, fixed
 from otherhand.places import Alike, MirrorAlike, Unlike
 from otherhand.refusing import Led, Refused
 from otherhand.sameness import Handed, MirrorOf, Mirrorlike, Neither, One
+from otherhand.shifts import Shifts, Shut
 from otherhand.sorts import Sway
 from otherhand.turnings import Turns
 from otherhand.twists import Barred, By
@@ -42,8 +44,14 @@ CLASSES = {
     NoBody: ("tree",),
     ChainBy: ("setting",),
     NoChain: ("why", "words"),
+    Swung: ("row",),
+    MirrorSwung: ("row",),
+    Unswung: ("seats", "mirrored"),
+    Shifts: ("steps", "row"),
+    Shut: ("sorts",),
 }
-DENIALS = (Refused, Neither, Handed, Unlike, Barred, HandedAt, Upsets, NeverSummed, NeverTried, NoBody, NoChain)
+DENIALS = (Refused, Neither, Handed, Unlike, Barred, HandedAt, Upsets, NeverSummed, NeverTried, NoBody, NoChain,
+           Unswung, Shut)
 
 
 class TestPapers(unittest.TestCase):

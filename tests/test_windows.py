@@ -183,10 +183,10 @@ class TestChainBy(Asking):
             for value in bad:
                 self.assert_raises(BadWindow("windows"), call, 2, value)
             self.assert_raises(BadWindow("windows"), call, 1, [((1, -1), 1)])
-            for told in ([((1, -1), 60)], [((1, -1), 30), ((-1, 1), 30)], [((1, 1), 10 ** 30)], [((1, -1), 70)]):
-                self.assert_raises(TooMany("hubs", 60), call, 2, told)
-            self.assert_raises(TooMany("hubs", 60), call, 60, [((1,) * 60, 2)])
-            self.assert_raises(TooMany("hubs", 60), call, 1, [((1,), 61)])
+        for told in ([((1, -1), 60)], [((1, -1), 30), ((-1, 1), 30)], [((1, 1), 10 ** 30)], [((1, -1), 70)]):
+            self.assert_raises(TooMany("hubs", 60), chain_by, 2, told)
+        self.assert_raises(TooMany("hubs", 60), chain_by, 60, [((1,) * 60, 2)])
+        self.assert_raises(TooMany("hubs", 60), chain_by, 1, [((1,), 61)])
         self.assertEqual(chain_by(2, [((1, 1), 59)]), ChainBy((1,) * 60))
         self.assertEqual(chain_by(60, [((1, -1) * 30, 1)]), ChainBy((1, -1) * 30))
         self.assertEqual(len(chain_by(1, [((1,), 30), ((-1,), 30)]).setting), 60)
@@ -228,6 +228,16 @@ class TestCheckChains(Asking):
         for words, right in (([[1, 1]], True), ([[-1, -1], [1, 1]], False), ([[1, -1], [1, 1]], False),
                              ([[1, 1], [1, 1]], False), ([], False)):
             self.assertIs(shows_chain(3, told, NoChain("ends", words)), right, words)
+
+    def test_more_than_sixty_signs(self):
+        # No section tells that a check raises TooMany.
+        self.assertIs(shows_chain(1, [((1,), 61)], ChainBy([1] * 61)), True)
+        self.assertIs(shows_chain(1, [((1,), 61)], ChainBy([1] * 60)), False)
+        self.assertIs(shows_chain(2, [((1, -1), 30), ((-1, 1), 30)], ChainBy([1, -1] * 30 + [1])), True)
+        self.assertIs(shows_chain(2, [((1, 1), 10 ** 30)], ChainBy([1] * 61)), False)
+        self.assertIs(shows_chain(2, [((1, -1), 10 ** 30)], NoChain("ends", [[1]])), True)
+        self.assertIs(shows_chain(2, [((1, 1), 10 ** 30), ((-1, -1), 1)], NoChain("apart", [[1]])), True)
+        self.assertIs(shows_chain(2, [((1, 1), 10 ** 30)], NoChain("apart", [[1]])), False)
 
     def test_any_value(self):
         told, wrong = [((1, 1), 1), ((1, -1), 1)], [((1, 1), 1), ((-1, -1), 1)]
