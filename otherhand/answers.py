@@ -2,7 +2,7 @@
 
 from otherhand.bodies import settings_of
 from otherhand.errors import Impossible
-from otherhand.holding import all_truths, numbers_fitting, tried_tree
+from otherhand.holding import all_truths, numbers_fitting, tried_tree, truths_by
 from otherhand.papers import Denial, Paper
 from otherhand.partings import Parting
 from otherhand.sayings import Product, need_about, need_saying, need_told
@@ -70,7 +70,7 @@ def fitting_sorts(told):
     """All sorts that have a setting that fits what is told, ascending."""
     need_told(told)
     parting = Parting(told.web)
-    numbers = numbers_fitting(told.web, all_truths(told.web, told.sayings))
+    numbers = numbers_fitting(told.web, truths_by(told.web, told.sayings, parting))
     found = sorted(set([parting.least[number] for number in numbers]))
     return tuple([parting.settings[sort] for sort in found])
 

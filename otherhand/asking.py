@@ -1,7 +1,7 @@
 """Which sayings are enough, and which mark to look at next."""
 
 from otherhand.answers import need_asked, need_some
-from otherhand.holding import all_truths, numbers_fitting
+from otherhand.holding import all_truths, numbers_fitting, truths_by
 from otherhand.orbits import bit_of
 from otherhand.partings import Parting
 from otherhand.sayings import need_told
@@ -34,7 +34,7 @@ def best_mark(told):
     """The mark to look at, and how many sorts are left then at most; None without marks."""
     need_told(told)
     parting = Parting(told.web)
-    truths = all_truths(told.web, told.sayings)
+    truths = truths_by(told.web, told.sayings, parting)
     numbers = numbers_fitting(told.web, truths)
     need_some(told, truths, numbers)
     found = None

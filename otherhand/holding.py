@@ -36,7 +36,11 @@ def truths_of(saying, many, parting):
 
 def all_truths(web, sayings):
     """For each saying its truths; TooMany of renamings where one is no product."""
-    parting = Parting(web) if asks_for_sorts(sayings) else None
+    return truths_by(web, sayings, Parting(web) if asks_for_sorts(sayings) else None)
+
+
+def truths_by(web, sayings, parting):
+    """For each saying its truths; parting is that of the web, or None beside products alone."""
     return [truths_of(saying, len(web.marks), parting) for saying in sayings]
 
 

@@ -259,6 +259,8 @@ class TestCheckChains(Asking):
             self.assertIs(shows_chain(2, wrong, NoChain("apart", value)), value is words)
         self.assertIs(shows_chain(2, wrong, NoChain("apart", words)), True)
         self.assertIs(shows_chain(2, wrong, NoChain(Agreeing(), words)), False)
+        self.assertIs(shows_chain(2, [((1, -1), 2)], NoChain("ends", words)), True)
+        self.assertIs(shows_chain(2, [((1, -1), 2)], NoChain(Agreeing(), words)), False)
         self.assertIs(shows_chain(2, wrong, NoChain("ends", words)), False)
         self.assertIs(shows_chain(2, told, ChainBy([1] * 100000)), False)
 
