@@ -21,8 +21,9 @@ def helped(web, piece, helper, its):
     both = joined_web(web, piece, helper.web, its)
     need_marks_within(web, MOST_MARKS_HELPED)
     pairs = pairs_of(web)
-    # Asked of the web that all these bodies have, once for all.
-    few_placements(both, both)
+    if pairs:
+        # Asked of the web that all these bodies have, once for all.
+        few_placements(both, both)
     found = []
     for one, other in pairs:
         settings = [joined_setting(Body(web, sort), piece, helper, its) for sort in (one, other)]

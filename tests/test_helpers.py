@@ -29,6 +29,11 @@ WORDS = {"one": "one", "mirrorof": "mirror", "neither": "neither"}
 # Its core can be placed on itself in 1,296 ways, also with a further neighbour of piece 0.
 THREE_KNOTS = web_of(13, [(0, 1), (0, 5), (0, 9)] + [
     (first + low, first + high) for first in (1, 5, 9) for low in range(4) for high in range(low + 1, 4)])
+# A hub with two ends and a knot; a piece with two knots.
+ONE_KNOT = Web(list("habkkkk"), [(0, 1), (0, 2), (0, 3), *[
+    (low, high) for low in range(3, 7) for high in range(low + 1, 7)]], [0])
+TWO_KNOTS = web_of(9, [(0, 1), (0, 5)] + [
+    (first + low, first + high) for first in (1, 5) for low in range(4) for high in range(low + 1, 4)])
 
 
 def by_trying(web, piece, helper, its):
@@ -143,7 +148,10 @@ class TestHelped(Asking):
         seven = web_of(8, cube(3).ties, list(range(7)), [], list("abcdefgh"))
         self.assert_raises(TooMany("marks", 6), helped, seven, 0, DOT, 0)
         self.assert_raises(TooMany("renamings", 400), helped, THREE_KNOTS, 0, DOT, 0)
-        self.assert_raises(TooMany("renamings", 400), helped, Web(["a"], []), 0, Body(THREE_KNOTS, []), 0)
+        # Without a pair no two bodies are compared; with one, what is joined can be placed in 432 ways.
+        self.assertEqual(helped(Web(["a"], []), 0, Body(THREE_KNOTS, []), 0), ())
+        self.assert_raises(TooMany("renamings", 400), helped, ONE_KNOT, 0, Body(TWO_KNOTS, []), 0)
+        self.assertEqual(helped(ONE_KNOT, 0, DOT, 0), (((-1,), (1,), "mirror"),))
         hubs = web_of(6, [(0, 1), (1, 2), (2, 3), (3, 4), (4, 5), (1, 5)], [1])
         self.assert_raises(TooMany("pieces", 16), helped, hubs, 0, Body(THREE_KNOTS, []), 0)
 
